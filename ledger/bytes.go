@@ -1,151 +1,108 @@
 package ledger
 
 import (
-	"math"
-
 	"novation/api"
-	"novation/pack"
+	"novation/wire"
 )
 
 // writer writes what a state has.
-type writer struct{ *pack.Writer }
-
-func (w writer) ints(l ...int) {
-	for _, n := range l {
-		w.Int(int64(n))
-	}
-}
-
-func (w writer) unit(u api.Unit) { w.ints(u.Account, u.Client) }
-
-func (w writer) leg(l api.Leg) {
-	w.ints(l.Inst)
-	w.Int(l.Qty)
-}
+type writer struct{ wire.Writer }
 
 func (w writer) flag(b bool) {
 	n := 0
 	if b {
 		n = 1
 	}
-	w.ints(n)
+	w.Ints(n)
 }
 
-// put writes a list: how many, and each one.
-func put[T any](w writer, l []T, one func(T)) {
-	w.ints(len(l))
-	for _, x := range l {
-		one(x)
-	}
+func (w writer) pos(p api.Pos) {
+	w.Unit(p.Unit)
+	put(w, p.Legs, w.Leg)
 }
+
+func put[T any](w writer, l []T, one func(T)) { wire.Put(w.Writer, l, one) }
 
 // Encode answers a state as bytes.
 func Encode(s api.State) []byte {
-	w := writer{pack.New()}
-	w.ints(s.Day)
+	w := writer{wire.New()}
+	w.Ints(s.Day)
 	w.tables(s)
 	w.deals(s)
-	book := func(p api.Pos) {
-		w.unit(p.Unit)
-		put(w, p.Legs, w.leg)
-	}
-	put(w, s.Book, book)
-	put(w, s.Sale, book)
+	put(w, s.Book, w.pos)
+	put(w, s.Sale, w.pos)
 	put(w, s.Purse, func(f api.Flow) {
-		w.unit(f.Unit)
+		w.Unit(f.Unit)
 		w.Int(f.Amount)
 	})
 	put(w, s.Holds, func(h api.Hold) {
-		w.unit(h.Unit)
-		put(w, h.Lots, func(l api.Lot) {
-			w.ints(l.Asset, l.Tag)
-			w.Int(l.Qty)
-		})
+		w.Unit(h.Unit)
+		put(w, h.Lots, w.Lot)
 	})
 	return w.Done()
 }
 
 func (w writer) tables(s api.State) {
 	put(w, s.Members, func(m api.Member) {
-		w.ints(m.Id)
+		w.Ints(m.Id)
 		w.Int(m.Cap)
-		w.ints(m.Phase, m.Until)
+		w.Ints(m.Phase, m.Until)
 	})
 	put(w, s.Insts, func(i api.Inst) {
-		w.ints(i.Id)
+		w.Ints(i.Id)
 		w.Int(i.Mult, i.Price, i.Next)
 		put(w, i.Moves, func(n int64) { w.Int(n) })
 	})
 	put(w, s.Assets, func(a api.Asset) {
-		w.ints(a.Id)
+		w.Ints(a.Id)
 		w.Int(a.Price, a.Haircut)
 	})
 	put(w, s.Accounts, func(a api.Account) {
-		w.ints(a.Id, a.Member, a.Kind)
-		put(w, a.Clients, func(n int) { w.ints(n) })
+		w.Ints(a.Id, a.Member, a.Kind)
+		put(w, a.Clients, func(n int) { w.Ints(n) })
 	})
 }
 
 func (w writer) deals(s api.State) {
 	put(w, s.Choices, func(c api.Choice) {
-		w.unit(c.From)
-		w.unit(c.To)
+		w.Unit(c.From)
+		w.Unit(c.To)
 		w.flag(c.Consent)
 	})
 	put(w, s.Groups, func(g api.Group) {
-		w.ints(g.Id)
-		w.unit(g.Unit)
-		w.ints(g.Inst)
+		w.Ints(g.Id)
+		w.Unit(g.Unit)
+		w.Ints(g.Inst)
 		w.Int(g.Price, g.Left)
 	})
 	put(w, s.Gives, func(g api.Give) {
-		w.ints(g.Id)
-		w.unit(g.From)
-		w.unit(g.To)
-		w.leg(g.Leg)
+		w.Ints(g.Id)
+		w.Unit(g.From)
+		w.Unit(g.To)
+		w.Leg(g.Leg)
 		w.Int(g.Price)
-		w.ints(g.Group, g.Day, g.State)
+		w.Ints(g.Group, g.Day, g.State)
 	})
 }
 
 // reader reads what a state has, in the order in which it is written.
-type reader struct{ *pack.Reader }
+type reader struct{ wire.Reader }
 
-func (r reader) long() int64 { return r.Int(math.MinInt64, math.MaxInt64) }
+func (r reader) pos() api.Pos { return api.Pos{Unit: r.Unit(), Legs: list(r, r.Leg)} }
 
-func (r reader) int() int { return int(r.long()) }
-
-func (r reader) unit() api.Unit { return api.Unit{Account: r.int(), Client: r.int()} }
-
-func (r reader) leg() api.Leg { return api.Leg{Inst: r.int(), Qty: r.long()} }
-
-func (r reader) lot() api.Lot { return api.Lot{Asset: r.int(), Tag: r.int(), Qty: r.long()} }
-
-func (r reader) pos() api.Pos { return api.Pos{Unit: r.unit(), Legs: list(r, r.leg)} }
-
-// list reads a list: how many, each of which takes a byte at least, and each one.
-func list[T any](r reader, one func() T) []T {
-	var out []T
-	for range r.Int(0, int64(r.Left())) {
-		x := one()
-		if r.Err() != api.OK {
-			return nil
-		}
-		out = append(out, x)
-	}
-	return out
-}
+// list reads a list of as many things as there are bytes, at most.
+func list[T any](r reader, one func() T) []T { return wire.List(r.Reader, r.Left(), one) }
 
 // Decode answers the state that bytes are.
 func Decode(b []byte) (api.State, api.Errno) {
-	r := reader{pack.Open(b)}
-	s := api.State{Day: r.int()}
+	r := reader{wire.Open(b)}
+	s := api.State{Day: r.Number()}
 	r.tables(&s)
 	r.deals(&s)
 	s.Book = list(r, r.pos)
 	s.Sale = list(r, r.pos)
-	s.Purse = list(r, func() api.Flow { return api.Flow{Unit: r.unit(), Amount: r.long()} })
-	s.Holds = list(r, func() api.Hold { return api.Hold{Unit: r.unit(), Lots: list(r, r.lot)} })
+	s.Purse = list(r, func() api.Flow { return api.Flow{Unit: r.Unit(), Amount: r.Long()} })
+	s.Holds = list(r, func() api.Hold { return api.Hold{Unit: r.Unit(), Lots: list(r, r.Lot)} })
 	if r.End() != api.OK || Check(s) != api.OK {
 		return api.State{}, api.ErrForm
 	}
@@ -154,27 +111,27 @@ func Decode(b []byte) (api.State, api.Errno) {
 
 func (r reader) tables(s *api.State) {
 	s.Members = list(r, func() api.Member {
-		return api.Member{Id: r.int(), Cap: r.long(), Phase: r.int(), Until: r.int()}
+		return api.Member{Id: r.Number(), Cap: r.Long(), Phase: r.Number(), Until: r.Number()}
 	})
 	s.Insts = list(r, func() api.Inst {
-		return api.Inst{Id: r.int(), Mult: r.long(), Price: r.long(), Next: r.long(), Moves: list(r, r.long)}
+		return api.Inst{Id: r.Number(), Mult: r.Long(), Price: r.Long(), Next: r.Long(), Moves: list(r, r.Long)}
 	})
 	s.Assets = list(r, func() api.Asset {
-		return api.Asset{Id: r.int(), Price: r.long(), Haircut: r.long()}
+		return api.Asset{Id: r.Number(), Price: r.Long(), Haircut: r.Long()}
 	})
 	s.Accounts = list(r, func() api.Account {
-		return api.Account{Id: r.int(), Member: r.int(), Kind: r.int(), Clients: list(r, r.int)}
+		return api.Account{Id: r.Number(), Member: r.Number(), Kind: r.Number(), Clients: list(r, r.Number)}
 	})
 }
 
 func (r reader) deals(s *api.State) {
 	s.Choices = list(r, func() api.Choice {
-		return api.Choice{From: r.unit(), To: r.unit(), Consent: r.Int(0, 1) == 1}
+		return api.Choice{From: r.Unit(), To: r.Unit(), Consent: r.Int(0, 1) == 1}
 	})
 	s.Groups = list(r, func() api.Group {
-		return api.Group{Id: r.int(), Unit: r.unit(), Inst: r.int(), Price: r.long(), Left: r.long()}
+		return api.Group{Id: r.Number(), Unit: r.Unit(), Inst: r.Number(), Price: r.Long(), Left: r.Long()}
 	})
 	s.Gives = list(r, func() api.Give {
-		return api.Give{Id: r.int(), From: r.unit(), To: r.unit(), Leg: r.leg(), Price: r.long(), Group: r.int(), Day: r.int(), State: r.int()}
+		return api.Give{Id: r.Number(), From: r.Unit(), To: r.Unit(), Leg: r.Leg(), Price: r.Long(), Group: r.Number(), Day: r.Number(), State: r.Number()}
 	})
 }
