@@ -1,10 +1,11 @@
-package asset
+package asset_test
 
 import (
 	"slices"
 	"testing"
 
 	"novation/api"
+	"novation/asset"
 )
 
 const least, most = -1 << 63, 1<<63 - 1
@@ -13,22 +14,22 @@ var bad = []api.Asset{{Id: 0}, {Id: -1}, {Id: 5}, {Id: 1, Price: -1}, {Id: 1, Pr
 
 func TestP12_1(t *testing.T) {
 	for _, a := range []api.Asset{{Id: 1}, {Id: 4, Price: 1<<31 - 1, Haircut: 10000}} {
-		if Check(a) != api.OK {
+		if asset.Check(a) != api.OK {
 			t.Error("is one", a)
 		}
 	}
 	for _, a := range bad {
-		if Check(a) != api.ErrArg {
+		if asset.Check(a) != api.ErrArg {
 			t.Error("is none", a)
 		}
-		if l, e := Put([]api.Asset{{Id: 1}}, a); l != nil || e != api.ErrArg {
+		if l, e := asset.Put([]api.Asset{{Id: 1}}, a); len(l) > 0 || e != api.ErrArg {
 			t.Error("Put", a, l, e)
 		}
 	}
 	var l []api.Asset
 	for _, id := range []int{3, 1, 4, 2} {
 		old := slices.Clone(l)
-		m, e := Put(l, api.Asset{Id: id, Price: int64(id)})
+		m, e := asset.Put(l, api.Asset{Id: id, Price: int64(id)})
 		if e != api.OK || !slices.Equal(old, l) {
 			t.Error("Put", id, e)
 		}
@@ -37,16 +38,16 @@ func TestP12_1(t *testing.T) {
 	if !slices.Equal(l, []api.Asset{{Id: 1, Price: 1}, {Id: 2, Price: 2}, {Id: 3, Price: 3}, {Id: 4, Price: 4}}) {
 		t.Error("not by Ids", l)
 	}
-	if m, e := Put(l, api.Asset{Id: 3}); m != nil || e != api.ErrThere {
+	if m, e := asset.Put(l, api.Asset{Id: 3}); len(m) > 0 || e != api.ErrThere {
 		t.Error("there", m, e)
 	}
-	if a, ok := Find(l, 3); !ok || a.Price != 3 {
+	if a, ok := asset.Find(l, 3); !ok || a.Price != 3 {
 		t.Error("Find", a, ok)
 	}
-	if a, ok := Find(l, 5); ok || a != (api.Asset{}) {
+	if a, ok := asset.Find(l, 5); ok || a != (api.Asset{}) {
 		t.Error("Find of none", a, ok)
 	}
-	m, e := Priced(l, 2, 1<<31-1)
+	m, e := asset.Priced(l, 2, 1<<31-1)
 	if e != api.OK || m[1] != (api.Asset{Id: 2, Price: 1<<31 - 1}) || l[1].Price != 2 {
 		t.Error("Priced", m, e)
 	}
@@ -55,7 +56,7 @@ func TestP12_1(t *testing.T) {
 		price int64
 		e     api.Errno
 	}{{5, 1, api.ErrNone}, {5, -1, api.ErrNone}, {2, -1, api.ErrArg}, {2, 1 << 31, api.ErrArg}} {
-		if m, e := Priced(l, c.id, c.price); m != nil || e != c.e {
+		if m, e := asset.Priced(l, c.id, c.price); len(m) > 0 || e != c.e {
 			t.Error("Priced", c, m, e)
 		}
 	}
@@ -72,20 +73,20 @@ func TestP12_2(t *testing.T) {
 		want int64
 		e    api.Errno
 	}{
-		{"Worth", Worth, a, 10, 30, api.OK}, {"Worth", Worth, a, -10, -30, api.OK}, {"Worth", Worth, a, most, 0, api.ErrRange},
-		{"Worth", Worth, a, least, 0, api.ErrRange}, {"Worth", Worth, free, most, 0, api.OK},
-		{"Count", Count, a, 10, 27, api.OK}, {"Count", Count, a, 1, 2, api.OK}, {"Count", Count, a, -1, 0, api.ErrArg},
-		{"Count", Count, a, most, 0, api.ErrRange}, {"Count", Count, api.Asset{Id: 1, Price: 3, Haircut: 10000}, 9, 0, api.OK},
-		{"Count", Count, api.Asset{Id: 1, Price: 1}, most, most, api.OK},
-		{"Sell", Sell, a, 31, 11, api.OK}, {"Sell", Sell, a, 30, 10, api.OK}, {"Sell", Sell, a, 0, 0, api.OK}, {"Sell", Sell, a, least, 0, api.OK},
-		{"Sell", Sell, free, 1, 0, api.ErrZero}, {"Sell", Sell, free, 0, 0, api.OK}, {"Sell", Sell, free, -1, 0, api.OK}, {"Sell", Sell, api.Asset{Id: 1, Price: 1}, most, most, api.OK},
+		{"Worth", asset.Worth, a, 10, 30, api.OK}, {"Worth", asset.Worth, a, -10, -30, api.OK}, {"Worth", asset.Worth, a, most, 0, api.ErrRange},
+		{"Worth", asset.Worth, a, least, 0, api.ErrRange}, {"Worth", asset.Worth, free, most, 0, api.OK},
+		{"Count", asset.Count, a, 10, 27, api.OK}, {"Count", asset.Count, a, 1, 2, api.OK}, {"Count", asset.Count, a, -1, 0, api.ErrArg},
+		{"Count", asset.Count, a, most, 0, api.ErrRange}, {"Count", asset.Count, api.Asset{Id: 1, Price: 3, Haircut: 10000}, 9, 0, api.OK},
+		{"Count", asset.Count, api.Asset{Id: 1, Price: 1}, most, most, api.OK},
+		{"Sell", asset.Sell, a, 31, 11, api.OK}, {"Sell", asset.Sell, a, 30, 10, api.OK}, {"Sell", asset.Sell, a, 0, 0, api.OK}, {"Sell", asset.Sell, a, least, 0, api.OK},
+		{"Sell", asset.Sell, free, 1, 0, api.ErrZero}, {"Sell", asset.Sell, free, 0, 0, api.OK}, {"Sell", asset.Sell, free, -1, 0, api.OK}, {"Sell", asset.Sell, api.Asset{Id: 1, Price: 1}, most, most, api.OK},
 	} {
 		if n, e := c.f(c.a, c.n); n != c.want || e != c.e {
 			t.Error(c.name, c.a, c.n, n, e)
 		}
 	}
 	for _, a := range bad {
-		for _, f := range []func(a api.Asset, n int64) (int64, api.Errno){Worth, Count, Sell} {
+		for _, f := range []func(a api.Asset, n int64) (int64, api.Errno){asset.Worth, asset.Count, asset.Sell} {
 			if n, e := f(a, -1); n != 0 || e != api.ErrArg {
 				t.Error("of none", a, n, e)
 			}
@@ -99,15 +100,15 @@ func TestP12_3(t *testing.T) {
 			a := api.Asset{Id: 2, Price: price, Haircut: cut}
 			last := int64(0)
 			for qty := range int64(200) {
-				worth, _ := Worth(a, qty)
-				counted, e := Count(a, qty)
+				worth, _ := asset.Worth(a, qty)
+				counted, e := asset.Count(a, qty)
 				if counted > worth || counted < last || e != api.OK {
 					t.Error("Count", a, qty, counted)
 				}
 				last = counted
-				n, e := Sell(a, qty*17)
-				all, _ := Worth(a, n)
-				less, _ := Worth(a, n-1)
+				n, e := asset.Sell(a, qty*17)
+				all, _ := asset.Worth(a, n)
+				less, _ := asset.Worth(a, n-1)
 				if e != api.OK || n < 0 || all < qty*17 || n > 0 && less >= qty*17 {
 					t.Error("Sell", a, qty*17, n)
 				}

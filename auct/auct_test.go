@@ -1,15 +1,18 @@
-package auct
+package auct_test
 
 import (
-	"reflect"
+	"fmt"
 	"testing"
 
 	"novation/api"
+	"novation/auct"
 	"novation/book"
-	"novation/dup"
 	"novation/purse"
 	"novation/wide"
 )
+
+// same tells whether two things are alike: none and nothing are one.
+func same(a, b any) bool { return fmt.Sprintf("%d", a) == fmt.Sprintf("%d", b) }
 
 const least, most = -1 << 63, 1<<63 - 1
 
@@ -23,7 +26,7 @@ func pos(unit api.Unit, l ...int64) api.Pos {
 	return p
 }
 
-func like(a, b api.State) bool { return reflect.DeepEqual(dup.State(a), dup.State(b)) }
+func like(a, b api.State) bool { return same(a, b) }
 
 // start answers a state in which member 1 is selling.
 func start() api.State {
@@ -39,35 +42,35 @@ func start() api.State {
 
 func TestP30_1(t *testing.T) {
 	s, want := start(), start()
-	x, e := Start(s, 1)
+	x, e := auct.Start(s, 1)
 	want.Book = want.Book[2:]
 	want.Sale = []api.Pos{pos(u(1, 1), 1, 5, 2, -4), pos(u(1, 2), 1, -5), pos(u(2, 0), 1, 5), pos(u(5, 0), 1, 3)}
 	if e != api.OK || !like(x, want) {
 		t.Error("Start", x, e)
 	}
-	if l := Left(x, 1); !reflect.DeepEqual(l, want.Sale[:3]) {
+	if l := auct.Left(x, 1); !same(l, want.Sale[:3]) {
 		t.Error("Left", l)
 	}
-	x.Sale[0].Legs[0].Qty, x.Book[0].Legs[0].Qty, Left(s, 1)[0].Legs[0].Qty = 77, 77, 77
+	x.Sale[0].Legs[0].Qty, x.Book[0].Legs[0].Qty, auct.Left(s, 1)[0].Legs[0].Qty = 77, 77, 77
 	if !like(s, start()) {
 		t.Error("changed", s)
 	}
-	if x, e := Start(s, 9); e != api.OK || !like(x, s) || len(Left(s, 9)) != 0 {
+	if x, e := auct.Start(s, 9); e != api.OK || !like(x, s) || len(auct.Left(s, 9)) != 0 {
 		t.Error("of nobody", x, e)
 	}
 	s.Sale[0] = pos(u(1, 1), 1, most)
-	if x, e := Start(s, 1); e != api.ErrRange || !like(x, api.State{}) {
+	if x, e := auct.Start(s, 1); e != api.ErrRange || !like(x, api.State{}) {
 		t.Error("Start", x, e)
 	}
 	s = start()
 	s.Book[0] = pos(u(1, 1), 1, least)
-	if x, e := Start(s, 1); e != api.OK || book.Of(x.Sale, u(1, 1))[0].Qty != least+2 {
+	if x, e := auct.Start(s, 1); e != api.OK || book.Of(x.Sale, u(1, 1))[0].Qty != least+2 {
 		t.Error("the least", x, e)
 	}
 	for i, spoil := range []func(s *api.State){func(s *api.State) { s.Book[2].Legs = nil }, func(s *api.State) { s.Sale[2].Legs = nil }} {
 		s := start()
 		spoil(&s)
-		if x, e := Start(s, 9); e != api.ErrForm || !like(x, api.State{}) {
+		if x, e := auct.Start(s, 9); e != api.ErrForm || !like(x, api.State{}) {
 			t.Error("Start", i, x, e)
 		}
 	}
@@ -77,7 +80,7 @@ func TestP30_2(t *testing.T) {
 	s := start()
 	s.Sale[0] = pos(u(1, 1), 1, 4)
 	s.Book = s.Book[:0]
-	x, e := Fill(s, u(1, 1), u(3, 0), 1, 3, 5)
+	x, e := auct.Fill(s, u(1, 1), u(3, 0), 1, 3, 5)
 	want := start()
 	want.Sale[0] = pos(u(1, 1), 1, 1)
 	want.Book = []api.Pos{pos(u(3, 0), 1, 3)}
@@ -85,7 +88,7 @@ func TestP30_2(t *testing.T) {
 	if e != api.OK || !like(x, want) {
 		t.Error("Fill", x, e)
 	}
-	x, e = Fill(x, u(1, 2), u(3, 0), 1, -5, 8)
+	x, e = auct.Fill(x, u(1, 2), u(3, 0), 1, -5, 8)
 	want.Sale = []api.Pos{want.Sale[0], want.Sale[2]}
 	want.Book = []api.Pos{pos(u(3, 0), 1, -2)}
 	want.Purse = []api.Flow{{Unit: u(1, 1), Amount: -55}, {Unit: u(1, 2), Amount: -50}, {Unit: u(3, 0), Amount: 110}}
@@ -116,7 +119,7 @@ func TestP30_2_Errors(t *testing.T) {
 	} {
 		s := start()
 		c.spoil(&s)
-		if x, e := Fill(s, c.u, c.to, c.id, c.qty, c.price); e != c.e || !like(x, api.State{}) {
+		if x, e := auct.Fill(s, c.u, c.to, c.id, c.qty, c.price); e != c.e || !like(x, api.State{}) {
 			t.Error(i, c.u, c.to, c.qty, e)
 		}
 	}
@@ -124,8 +127,8 @@ func TestP30_2_Errors(t *testing.T) {
 
 func TestP30_3(t *testing.T) {
 	s := start()
-	x, e := Start(s, 1)
-	y, f := Fill(x, u(2, 0), u(3, 0), 1, 4, 9)
+	x, e := auct.Start(s, 1)
+	y, f := auct.Fill(x, u(2, 0), u(3, 0), 1, 4, 9)
 	if e != api.OK || f != api.OK || purse.Total(y.Purse) != purse.Total(s.Purse) {
 		t.Error("cash", e, f)
 	}
@@ -138,7 +141,7 @@ func TestP30_3(t *testing.T) {
 			t.Error("in both together", inst)
 		}
 	}
-	if !reflect.DeepEqual(book.Of(y.Sale, u(1, 1)), book.Of(x.Sale, u(1, 1))) || !reflect.DeepEqual(book.Of(y.Sale, u(5, 0)), book.Of(s.Sale, u(5, 0))) {
+	if !same(book.Of(y.Sale, u(1, 1)), book.Of(x.Sale, u(1, 1))) || !same(book.Of(y.Sale, u(5, 0)), book.Of(s.Sale, u(5, 0))) {
 		t.Error("somebody else's")
 	}
 }

@@ -1,10 +1,11 @@
-package audit
+package audit_test
 
 import (
 	"slices"
 	"testing"
 
 	"novation/api"
+	"novation/audit"
 	"novation/rules"
 	"novation/wide"
 )
@@ -28,7 +29,7 @@ func withdraw(asset int, qty int64) api.Command {
 }
 
 func TestP39_1(t *testing.T) {
-	if l := []api.Done{ok(deposit(0, 5), api.Reply{}), ok(withdraw(0, 2), api.Reply{})}; Sum(l, 0) != wide.Of(3) || Sum(nil, 0) != wide.Of(0) {
+	if l := []api.Done{ok(deposit(0, 5), api.Reply{}), ok(withdraw(0, 2), api.Reply{})}; audit.Sum(l, 0) != wide.Of(3) || audit.Sum(nil, 0) != wide.Of(0) {
 		t.Error("Sum")
 	}
 	const most = 1<<63 - 1
@@ -40,7 +41,7 @@ func TestP39_1(t *testing.T) {
 		ok(api.Command{Op: api.OpDay}, api.Reply{Returns: []api.Return{{Cash: 1, Lots: []api.Lot{lot(1, 1)}}}}),
 	}
 	for asset, want := range []string{"18446744073709551601", "44", "50", "0", "0"} {
-		if w := Sum(l, asset); wide.Text(w) != want {
+		if w := audit.Sum(l, asset); wide.Text(w) != want {
 			t.Error("Sum", asset, wide.Text(w))
 		}
 	}
@@ -53,14 +54,14 @@ func TestP39_2(t *testing.T) {
 		ok(api.Command{Op: api.OpClose}, api.Reply{Err: 3, Debits: []api.Debit{debit(a, b, 50)}}),
 		ok(api.Command{Op: api.OpDay}, api.Reply{Debits: []api.Debit{debit(a, a, 7)}}),
 	}
-	if d := Debits(l); !slices.Equal(d, []api.Debit{debit(a, b, 5), debit(c, b, 6), debit(a, a, 7)}) {
+	if d := audit.Debits(l); !slices.Equal(d, []api.Debit{debit(a, b, 5), debit(c, b, 6), debit(a, a, 7)}) {
 		t.Error("Debits", d)
 	}
 	for i, x := range []struct {
 		unit     api.Unit
 		owed, by int64
 	}{{a, 7, 12}, {b, 11, 0}, {c, 0, 6}, {u(9, 9), 0, 0}} {
-		if For(l, x.unit) != wide.Of(x.owed) || By(l, x.unit) != wide.Of(x.by) {
+		if audit.For(l, x.unit) != wide.Of(x.owed) || audit.By(l, x.unit) != wide.Of(x.by) {
 			t.Error("For, By", i)
 		}
 	}
@@ -69,7 +70,7 @@ func TestP39_2(t *testing.T) {
 		ok(port, api.Reply{Numbers: []int64{3, 2}}), ok(port, api.Reply{Err: 5, Numbers: []int64{3, 2}}), ok(port, api.Reply{Numbers: []int64{3}}), ok(port, api.Reply{Numbers: []int64{3, 2, 1}}),
 		ok(api.Command{Op: api.OpCash, Unit: a}, api.Reply{Numbers: []int64{3, 2}}), ok(api.Command{Op: api.OpPort, Unit: b}, api.Reply{Numbers: []int64{4, 0}}),
 	}
-	if x := Ports(ports); !slices.Equal(x, []api.Choice{{From: a, To: u(3, 2), Consent: true}, {From: b, To: u(4, 0), Consent: true}}) {
+	if x := audit.Ports(ports); !slices.Equal(x, []api.Choice{{From: a, To: u(3, 2), Consent: true}, {From: b, To: u(4, 0), Consent: true}}) {
 		t.Error("Ports", x)
 	}
 }
@@ -82,7 +83,7 @@ func TestP39_3(t *testing.T) {
 	good := func() api.State {
 		return api.State{Purse: []api.Flow{{Unit: u(1, 1), Amount: 5}}, Holds: []api.Hold{{Unit: u(1, 1), Lots: []api.Lot{lot(4, 7)}}}, Book: pos(5), Sale: pos(-5)}
 	}
-	if Check(good(), log) != api.OK || Check(api.State{}, nil) != api.OK {
+	if audit.Check(good(), log) != api.OK || audit.Check(api.State{}, nil) != api.OK {
 		t.Error("passes")
 	}
 	for i, spoil := range []func(s *api.State){
@@ -91,7 +92,7 @@ func TestP39_3(t *testing.T) {
 	} {
 		s := good()
 		spoil(&s)
-		if Check(s, log) != api.ErrForm {
+		if audit.Check(s, log) != api.ErrForm {
 			t.Error("passes", i)
 		}
 	}
@@ -125,12 +126,12 @@ func TestP39_4(t *testing.T) {
 		{api.Command{Op: api.OpClose, Member: 2}, api.OK, []api.Debit{debit(u(5, 2), u(5, 1), 4), debit(u(4, 0), u(5, 1), 4)}, true},
 		{api.Command{Op: api.OpClose, Member: 2}, api.OK, []api.Debit{debit(u(1, 7), u(1, 1), 1)}, false},
 	} {
-		if Fair(s, ok(c.c, api.Reply{Err: c.e, Debits: c.l})) != c.want {
+		if audit.Fair(s, ok(c.c, api.Reply{Err: c.e, Debits: c.l})) != c.want {
 			t.Error("Fair", i, c)
 		}
 	}
 	const most = 1<<63 - 1
-	if s.Purse[0].Amount = -1 << 63; Fair(s, ok(closed, api.Reply{Debits: []api.Debit{debit(u(0, 0), u(1, 1), most), debit(u(0, 0), u(1, 1), 2)}})) || !Fair(s, ok(closed, api.Reply{Debits: []api.Debit{debit(u(0, 0), u(1, 1), most), debit(u(0, 0), u(1, 1), 1)}})) {
+	if s.Purse[0].Amount = -1 << 63; audit.Fair(s, ok(closed, api.Reply{Debits: []api.Debit{debit(u(0, 0), u(1, 1), most), debit(u(0, 0), u(1, 1), 2)}})) || !audit.Fair(s, ok(closed, api.Reply{Debits: []api.Debit{debit(u(0, 0), u(1, 1), most), debit(u(0, 0), u(1, 1), 1)}})) {
 		t.Error("sums of more than 64 bits")
 	}
 }
@@ -160,7 +161,7 @@ func TestP39_5(t *testing.T) {
 	for seed := range uint64(30) {
 		live(seed, seed%3 == 0, 500, func(s, x api.State, l []api.Done) {
 			last := l[len(l)-1]
-			if Check(x, l) != api.OK || !Fair(s, last) {
+			if audit.Check(x, l) != api.OK || !audit.Fair(s, last) {
 				t.Fatal("Check, Fair", last)
 			}
 			closed += len(last.Reply.Debits)

@@ -1,12 +1,13 @@
-package audit
+package audit_test
 
 import (
 	"bytes"
-	"reflect"
+	"fmt"
 	"slices"
 	"testing"
 
 	"novation/api"
+	"novation/audit"
 	"novation/book"
 	"novation/cmd"
 	"novation/cover"
@@ -22,6 +23,9 @@ import (
 	"novation/units"
 	"novation/wide"
 )
+
+// same tells whether two things are alike: none and nothing are one.
+func same(a, b any) bool { return fmt.Sprintf("%d", a) == fmt.Sprintf("%d", b) }
 
 func engineOf(t *testing.T, cells, each int) (*drive.Drive, *engine.Engine) {
 	t.Helper()
@@ -132,16 +136,16 @@ func closing(t *testing.T, s, x api.State, last api.Done) {
 	}
 	for _, u := range units.Of(s.Accounts, id) {
 		owed, owes := max(0, -purse.Get(s.Purse, u)), max(0, -purse.Get(x.Purse, u))
-		if For(log, u) != wide.Of(owed-owes) {
+		if audit.For(log, u) != wide.Of(owed-owes) {
 			t.Error("what is paid for", u, owed, owes)
 		}
 		had, _ := cover.Worth(s.Assets, hold.Lots(s.Holds, u))
 		had += max(0, purse.Get(s.Purse, u))
-		if by, _ := wide.Int(By(log, u)); had-by != got[u] {
+		if by, _ := wide.Int(audit.By(log, u)); had-by != got[u] {
 			t.Error("gets back", u, had, by, got[u])
 		}
 	}
-	if !Fair(s, last) || len(units.Of(s.Accounts, id)) == 0 {
+	if !audit.Fair(s, last) || len(units.Of(s.Accounts, id)) == 0 {
 		t.Error("by who may not", last)
 	}
 }
@@ -167,7 +171,7 @@ func TestT3(t *testing.T) {
 			}
 			done++
 			ported(t, s, x, from, to)
-			if p := Ports(l); p[len(p)-1] != (api.Choice{From: from, To: to, Consent: true}) {
+			if p := audit.Ports(l); p[len(p)-1] != (api.Choice{From: from, To: to, Consent: true}) {
 				t.Error("Ports", p)
 			}
 		})
@@ -186,7 +190,7 @@ func ported(t *testing.T, s, x api.State, from, to api.Unit) {
 		case to:
 			was = from
 		}
-		if !reflect.DeepEqual(book.Of(x.Book, u), book.Of(s.Book, was)) || purse.Get(x.Purse, u) != purse.Get(s.Purse, was) || !reflect.DeepEqual(hold.Lots(x.Holds, u), hold.Lots(s.Holds, was)) {
+		if !same(book.Of(x.Book, u), book.Of(s.Book, was)) || purse.Get(x.Purse, u) != purse.Get(s.Purse, was) || !same(hold.Lots(x.Holds, u), hold.Lots(s.Holds, was)) {
 			t.Error("not what it had", u)
 		}
 	}
@@ -198,7 +202,7 @@ var nobody = api.Unit{Account: -1}
 func TestT4(t *testing.T) {
 	for seed := range uint64(10) {
 		live(seed+300, seed%2 == 0, 600, func(s, x api.State, l []api.Done) {
-			if Check(x, l) != api.OK || !book.Balanced(slices.Concat(x.Book, x.Sale)) {
+			if audit.Check(x, l) != api.OK || !book.Balanced(slices.Concat(x.Book, x.Sale)) {
 				t.Fatal("not balanced", l[len(l)-1])
 			}
 		})
@@ -261,7 +265,7 @@ func TestT7(t *testing.T) {
 				}
 				frozen++
 				for _, u := range units.Of(s.Accounts, m.Id) {
-					if !reflect.DeepEqual(book.Of(x.Book, u), book.Of(s.Book, u)) || !reflect.DeepEqual(book.Of(x.Sale, u), book.Of(s.Sale, u)) || purse.Get(x.Purse, u) != purse.Get(s.Purse, u) || !reflect.DeepEqual(hold.Lots(x.Holds, u), hold.Lots(s.Holds, u)) {
+					if !same(book.Of(x.Book, u), book.Of(s.Book, u)) || !same(book.Of(x.Sale, u), book.Of(s.Sale, u)) || purse.Get(x.Purse, u) != purse.Get(s.Purse, u) || !same(hold.Lots(x.Holds, u), hold.Lots(s.Holds, u)) {
 						t.Error("frozen, and changed", u, l[len(l)-1])
 					}
 				}

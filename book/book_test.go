@@ -1,10 +1,11 @@
-package book
+package book_test
 
 import (
 	"slices"
 	"testing"
 
 	"novation/api"
+	"novation/book"
 	"novation/vec"
 	"novation/wide"
 )
@@ -34,31 +35,31 @@ var none = [][]api.Pos{
 
 func TestP19_1(t *testing.T) {
 	l := []api.Pos{pos(u(0, 0), 1, 1), pos(u(1, 1), 1, 5, 8, least), pos(u(2, 0), 3, most)}
-	if !Is(nil) || !Is(l) {
+	if !book.Is(nil) || !book.Is(l) {
 		t.Error("are books")
 	}
 	for _, l := range none {
-		if Is(l) {
+		if book.Is(l) {
 			t.Error("is none", l)
 		}
 		bad := legs(9, 9)
-		if m, e := Shift(l, u(1, 1), bad); m != nil || e != api.ErrForm {
+		if m, e := book.Shift(l, u(1, 1), bad); len(m) > 0 || e != api.ErrForm {
 			t.Error("Shift", m, e)
 		}
-		if m, e := Move(l, u(1, 1), u(1, 2), legs(1, least)); m != nil || e != api.ErrForm {
+		if m, e := book.Move(l, u(1, 1), u(1, 2), legs(1, least)); len(m) > 0 || e != api.ErrForm {
 			t.Error("Move", m, e)
 		}
-		if m, e := Net(l); m != nil || e != api.ErrForm {
+		if m, e := book.Net(l); len(m) > 0 || e != api.ErrForm {
 			t.Error("Net", m, e)
 		}
-		if n, e := Held(l); n != 0 || e != api.ErrForm {
+		if n, e := book.Held(l); n != 0 || e != api.ErrForm {
 			t.Error("Held", n, e)
 		}
 	}
-	if !vec.Same(Of(l, u(1, 1)), l[1].Legs) || Of(l, u(1, 2)) != nil || !vec.Same(Of(none[5], u(1, 2)), legs(1, 1)) {
+	if !vec.Same(book.Of(l, u(1, 1)), l[1].Legs) || len(book.Of(l, u(1, 2))) > 0 || !vec.Same(book.Of(none[5], u(1, 2)), legs(1, 1)) {
 		t.Error("Of")
 	}
-	Of(l, u(1, 1))[0].Qty = 9
+	book.Of(l, u(1, 1))[0].Qty = 9
 	if l[1].Legs[0].Qty != 5 {
 		t.Error("shared")
 	}
@@ -80,7 +81,7 @@ func TestP19_2_Shift(t *testing.T) {
 		{u(1, 1), legs(1, most), nil, api.ErrRange},
 		{u(1, 1), legs(1, 0), nil, api.ErrForm},
 	} {
-		m, e := Shift(l, c.unit, c.legs)
+		m, e := book.Shift(l, c.unit, c.legs)
 		if !like(m, c.want) || e != c.e {
 			t.Error("Shift", c.unit, c.legs, m, e)
 		}
@@ -109,11 +110,11 @@ func TestP19_2_Move(t *testing.T) {
 		{u(1, 1), u(4, 0), legs(1, least), nil, api.ErrRange},
 		{u(1, 1), u(2, 0), legs(0, 1), nil, api.ErrForm},
 	} {
-		if m, e := Move(l, c.from, c.to, c.legs); !like(m, c.want) || e != c.e {
+		if m, e := book.Move(l, c.from, c.to, c.legs); !like(m, c.want) || e != c.e {
 			t.Error("Move", c, m, e)
 		}
 	}
-	if m, e := Move(nil, u(1, 0), u(2, 0), legs(1, 5)); !like(m, []api.Pos{pos(u(1, 0), 1, -5), pos(u(2, 0), 1, 5)}) || e != api.OK {
+	if m, e := book.Move(nil, u(1, 0), u(2, 0), legs(1, 5)); !like(m, []api.Pos{pos(u(1, 0), 1, -5), pos(u(2, 0), 1, 5)}) || e != api.OK {
 		t.Error("Move of nothing", m, e)
 	}
 }
@@ -134,17 +135,17 @@ func TestP19_3(t *testing.T) {
 		{[]api.Unit{u(2, 0), u(2, 1)}, legs(3, -1), api.OK, 0, api.ErrRange},
 		{[]api.Unit{u(2, 0)}, legs(3, most), api.OK, most, api.OK},
 	} {
-		if m, e := Net(l, c.units...); !vec.Same(m, c.want) || e != c.e {
+		if m, e := book.Net(l, c.units...); !vec.Same(m, c.want) || e != c.e {
 			t.Error("Net", c.units, m, e)
 		}
-		if n, e := Held(l, c.units...); n != c.held || e != c.f {
+		if n, e := book.Held(l, c.units...); n != c.held || e != c.f {
 			t.Error("Held", c.units, n, e)
 		}
 	}
-	if Open(l, 1) != wide.Of(0) || Open(l, 2) != wide.Of(-3) || Open(l, 3) != wide.Of(-1) || Open(l, 4) != wide.Of(0) || Open([]api.Pos{l[2], l[2]}, 3).Lo != 1<<64-2 {
+	if book.Open(l, 1) != wide.Of(0) || book.Open(l, 2) != wide.Of(-3) || book.Open(l, 3) != wide.Of(-1) || book.Open(l, 4) != wide.Of(0) || book.Open([]api.Pos{l[2], l[2]}, 3).Lo != 1<<64-2 {
 		t.Error("Open")
 	}
-	if Balanced(l) || !Balanced(nil) || !Balanced([]api.Pos{pos(u(1, 1), 8, 5), pos(u(1, 2), 8, -5)}) || Balanced([]api.Pos{pos(u(1, 1), 8, 5)}) || Balanced([]api.Pos{pos(u(1, 1), 1, 5)}) {
+	if book.Balanced(l) || !book.Balanced(nil) || !book.Balanced([]api.Pos{pos(u(1, 1), 8, 5), pos(u(1, 2), 8, -5)}) || book.Balanced([]api.Pos{pos(u(1, 1), 8, 5)}) || book.Balanced([]api.Pos{pos(u(1, 1), 1, 5)}) {
 		t.Error("Balanced")
 	}
 }
@@ -153,13 +154,13 @@ func TestP19_4(t *testing.T) {
 	l := []api.Pos{pos(u(1, 1), 1, 5, 2, -3), pos(u(1, 2), 1, -5), pos(u(3, 1), 4, 1)}
 	for _, from := range []api.Unit{u(1, 1), u(1, 2), u(2, 2)} {
 		for _, to := range []api.Unit{u(1, 1), u(1, 2), u(2, 2)} {
-			m, e := Move(l, from, to, legs(1, 5, 2, 1))
+			m, e := book.Move(l, from, to, legs(1, 5, 2, 1))
 			for inst := range 9 {
-				if e != api.OK || Open(m, inst) != Open(l, inst) || !vec.Same(Of(m, u(3, 1)), legs(4, 1)) {
+				if e != api.OK || book.Open(m, inst) != book.Open(l, inst) || !vec.Same(book.Of(m, u(3, 1)), legs(4, 1)) {
 					t.Error("Move", from, to, m, e)
 				}
 			}
-			if back, e := Move(m, to, from, legs(1, 5, 2, 1)); !like(back, l) || e != api.OK {
+			if back, e := book.Move(m, to, from, legs(1, 5, 2, 1)); !like(back, l) || e != api.OK {
 				t.Error("there and back", from, to, back, e)
 			}
 		}

@@ -1,4 +1,4 @@
-package console
+package console_test
 
 import (
 	"slices"
@@ -6,13 +6,14 @@ import (
 	"testing"
 
 	"novation/api"
+	"novation/console"
 )
 
 func TestP41_1_Lines(t *testing.T) {
 	for s, want := range map[string][]string{
 		"": nil, "\n\n": nil, "a": {"a"}, "a\nb": {"a", "b"}, "\na\n\n#x\n # y\nb#\n": {"a", " # y", "b#"}, "#": nil, "a\r\n": {"a\r"}, " \n": {" "},
 	} {
-		if l := Lines(s); !slices.Equal(l, want) {
+		if l := console.Lines(s); !slices.Equal(l, want) {
 			t.Errorf("Lines %q: %q", s, l)
 		}
 	}
@@ -21,7 +22,7 @@ func TestP41_1_Lines(t *testing.T) {
 // says tells whether a text says these lines.
 func says(t *testing.T, text string, cells, each int, want string) {
 	t.Helper()
-	got, e := Run(text, cells, each)
+	got, e := console.Run(text, cells, each)
 	if e != api.OK || got != want {
 		t.Errorf("%d\n%s-- not --\n%s", e, got, want)
 	}
@@ -42,7 +43,7 @@ func TestP41_1_Run(t *testing.T) {
 	}{
 		{long + "x", 0, 0, api.ErrBig}, {many + "left", 0, 0, api.ErrBig}, {"", 0, 4, api.ErrArg}, {"", 2049, 4, api.ErrArg}, {"", 8, 4, api.ErrArg}, {"", 8, 0, api.ErrArg},
 	} {
-		if s, e := Run(c.s, c.cells, c.each); s != "" || e != c.e {
+		if s, e := console.Run(c.s, c.cells, c.each); s != "" || e != c.e {
 			t.Error("Run", len(c.s), c.cells, c.each, s, e)
 		}
 	}
@@ -175,17 +176,17 @@ ok return 1.0 9 lot 1 7 4
 
 func TestP41_3(t *testing.T) {
 	text := "member 0 1 9\n\n# a remark\nreport 1\nfuse 1\nday 0\nday 0\nday 0\nfoo\npower\nreport\nleft\ncompact\n#\nleft"
-	all, _ := Run(text, 14, 4)
+	all, _ := console.Run(text, 14, 4)
 	for i := range text {
 		if text[i] != '\n' {
 			continue
 		}
-		part, e := Run(text[:i+1], 14, 4)
-		if same, f := Run(text[:i], 14, 4); e != api.OK || f != e || part != same || !strings.HasPrefix(all, part) {
+		part, e := console.Run(text[:i+1], 14, 4)
+		if same, f := console.Run(text[:i], 14, 4); e != api.OK || f != e || part != same || !strings.HasPrefix(all, part) {
 			t.Error("the beginning", i, part)
 		}
 	}
-	bare, _ := Run(strings.ReplaceAll(strings.ReplaceAll(text, "# a remark", ""), "\n\n", "\n"), 14, 4)
+	bare, _ := console.Run(strings.ReplaceAll(strings.ReplaceAll(text, "# a remark", ""), "\n\n", "\n"), 14, 4)
 	if bare != all {
 		t.Error("what is empty, or a remark, says something", bare)
 	}

@@ -1,10 +1,11 @@
-package cover
+package cover_test
 
 import (
 	"slices"
 	"testing"
 
 	"novation/api"
+	"novation/cover"
 	"novation/hold"
 	"novation/purse"
 )
@@ -42,20 +43,20 @@ func TestP27_1(t *testing.T) {
 		{[]api.Lot{lot(1, 0, 1), lot(3, 0, 1)}, 0, 0, api.ErrNone, 0, api.ErrNone},
 		{[]api.Lot{lot(3, 0, 0)}, 0, 0, api.ErrForm, 0, api.ErrForm},
 	} {
-		if n, e := Value(assets, c.l, c.cash); n != c.value || e != c.e {
+		if n, e := cover.Value(assets, c.l, c.cash); n != c.value || e != c.e {
 			t.Error("Value", c.l, c.cash, n, e)
 		}
-		if n, e := Worth(assets, c.l); n != c.worth || e != c.f {
+		if n, e := cover.Worth(assets, c.l); n != c.worth || e != c.f {
 			t.Error("Worth", c.l, n, e)
 		}
 	}
-	if n, e := Value([]api.Asset{{Id: 1, Price: -1}}, []api.Lot{lot(1, 0, 1)}, 0); n != 0 || e != api.ErrArg {
+	if n, e := cover.Value([]api.Asset{{Id: 1, Price: -1}}, []api.Lot{lot(1, 0, 1)}, 0); n != 0 || e != api.ErrArg {
 		t.Error("asset.Count's error", n, e)
 	}
 }
 
-func side() Side {
-	return Side{
+func side() cover.Side {
+	return cover.Side{
 		Assets: assets,
 		Insts:  []api.Inst{{Id: 1, Mult: 10, Moves: []int64{2, -3}}},
 		Book:   []api.Pos{pos(u(1, 0), 1, 4), pos(u(2, 1), 1, 4), pos(u(2, 2), 1, -4), pos(u(3, 5), 2, 1)},
@@ -79,19 +80,19 @@ func TestP27_2(t *testing.T) {
 		{house, u(1, 0), -43, api.OK}, {net, u(2, 0), 13, api.OK}, {gross, u(2, 1), -207, api.OK}, {gross, u(2, 2), 20, api.OK}, {net, u(2, 1), 0, api.ErrNone},
 		{third, u(3, 5), 0, api.ErrNone}, {fourth, u(4, 1), 0, api.ErrRange}, {fourth, u(4, 2), 0, api.ErrNone},
 	} {
-		if n, e := Excess(side(), c.a, c.unit); n != c.want || e != c.e {
+		if n, e := cover.Excess(side(), c.a, c.unit); n != c.want || e != c.e {
 			t.Error("Excess", c.a, c.unit, n, e)
 		}
 	}
-	for i, spoil := range []func(s *Side){
-		func(s *Side) { s.Book[0].Legs = nil }, func(s *Side) { s.Purse[0].Amount = 0 }, func(s *Side) { s.Holds[0].Lots = nil },
+	for i, spoil := range []func(s *cover.Side){
+		func(s *cover.Side) { s.Book[0].Legs = nil }, func(s *cover.Side) { s.Purse[0].Amount = 0 }, func(s *cover.Side) { s.Holds[0].Lots = nil },
 	} {
 		s := side()
 		spoil(&s)
-		if n, e := Excess(s, net, u(9, 9)); n != 0 || e != api.ErrForm {
+		if n, e := cover.Excess(s, net, u(9, 9)); n != 0 || e != api.ErrForm {
 			t.Error("Excess", i, n, e)
 		}
-		if l, e := Calls(s, []api.Account{house}); l != nil || e != api.ErrForm {
+		if l, e := cover.Calls(s, []api.Account{house}); len(l) > 0 || e != api.ErrForm {
 			t.Error("Calls", i, l, e)
 		}
 	}
@@ -104,13 +105,13 @@ func TestP27_2(t *testing.T) {
 		{[]api.Account{gross, house}, []api.Flow{{Unit: u(2, 1), Amount: -207}, {Unit: u(1, 0), Amount: -43}}, api.OK},
 		{[]api.Account{house, fourth, third}, nil, api.ErrRange}, {[]api.Account{house, third, fourth}, nil, api.ErrNone},
 	} {
-		if l, e := Calls(side(), c.l); !slices.Equal(l, c.want) || e != c.e {
+		if l, e := cover.Calls(side(), c.l); !slices.Equal(l, c.want) || e != c.e {
 			t.Error("Calls", c.l, l, e)
 		}
 	}
 	s := side()
 	s.Book = append(s.Book, pos(u(4, 1), 1, 1)) // what must be had does not make a Value fit that leaves 64 bits
-	if n, e := Excess(s, fourth, u(4, 1)); n != 0 || e != api.ErrRange {
+	if n, e := cover.Excess(s, fourth, u(4, 1)); n != 0 || e != api.ErrRange {
 		t.Error("a Value of its own", n, e)
 	}
 }
@@ -118,18 +119,18 @@ func TestP27_2(t *testing.T) {
 func TestP27_3(t *testing.T) {
 	net := api.Account{Id: 2, Member: 1, Kind: api.Net, Clients: []int{1, 2}}
 	s := side()
-	before, _ := Excess(s, net, u(2, 0))
+	before, _ := cover.Excess(s, net, u(2, 0))
 	for qty := int64(1); qty < 9; qty++ {
 		for asset := 1; asset < 3; asset++ {
 			s := side()
 			s.Holds, _ = hold.Put(s.Holds, u(2, 2), lot(asset, 7, qty))
-			if n, e := Excess(s, net, u(2, 0)); e != api.OK || n < before {
+			if n, e := cover.Excess(s, net, u(2, 0)); e != api.OK || n < before {
 				t.Error("a lot more", asset, qty, n, e)
 			}
 		}
 		s := side()
 		s.Purse, _ = purse.Pay(s.Purse, api.Flow{Unit: u(2, 1), Amount: qty})
-		if n, e := Excess(s, net, u(2, 0)); e != api.OK || n != before+qty {
+		if n, e := cover.Excess(s, net, u(2, 0)); e != api.OK || n != before+qty {
 			t.Error("cash more", qty, n, e)
 		}
 	}

@@ -1,8 +1,10 @@
-package crc
+package crc_test
 
 import (
 	"bytes"
 	"testing"
+
+	"novation/crc"
 )
 
 func TestP5_1(t *testing.T) {
@@ -10,40 +12,40 @@ func TestP5_1(t *testing.T) {
 		s    string
 		want uint32
 	}{{"123456789", 0x21cf02}, {"", 0xb704ce}} {
-		if Of([]byte(c.s)) != c.want {
-			t.Errorf("%q: %x", c.s, Of([]byte(c.s)))
+		if crc.Of([]byte(c.s)) != c.want {
+			t.Errorf("%q: %x", c.s, crc.Of([]byte(c.s)))
 		}
 	}
-	if More(0xff000001, nil) != 1 || More(0xff000001, []byte("a")) != More(1, []byte("a")) {
+	if crc.More(0xff000001, nil) != 1 || crc.More(0xff000001, []byte("a")) != crc.More(1, []byte("a")) {
 		t.Error("more than 24 bits")
 	}
-	if More(0, []byte{1}) != 0x864cfb {
-		t.Errorf("%x", More(0, []byte{1}))
+	if crc.More(0, []byte{1}) != 0x864cfb {
+		t.Errorf("%x", crc.More(0, []byte{1}))
 	}
 }
 
 func TestP5_2(t *testing.T) {
 	b := []byte("123456789")
-	s := Seal(b)
+	s := crc.Seal(b)
 	if string(s) != "123456789\x21\xcf\x02" || string(b) != "123456789" {
 		t.Errorf("%x", s)
 	}
-	if o, ok := Open(s); !ok || !bytes.Equal(o, b) {
+	if o, ok := crc.Open(s); !ok || !bytes.Equal(o, b) {
 		t.Error(o, ok)
 	}
 	s[0]++
-	if o, ok := Open(s); ok || string(o) != "223456789" {
+	if o, ok := crc.Open(s); ok || string(o) != "223456789" {
 		t.Error(o, ok)
 	}
 	for _, s := range []string{"", "a", "ab"} {
-		if o, ok := Open([]byte(s)); ok || o != nil {
+		if o, ok := crc.Open([]byte(s)); ok || len(o) > 0 {
 			t.Error(s, o, ok)
 		}
 	}
-	if o, ok := Open(Seal(nil)); !ok || len(o) != 0 {
+	if o, ok := crc.Open(crc.Seal(nil)); !ok || len(o) != 0 {
 		t.Error("nothing, sealed")
 	}
-	if o, ok := Open([]byte("abc")); ok || len(o) != 0 {
+	if o, ok := crc.Open([]byte("abc")); ok || len(o) != 0 {
 		t.Error("nothing, not sealed", o)
 	}
 }
@@ -51,17 +53,17 @@ func TestP5_2(t *testing.T) {
 func TestP5_3(t *testing.T) {
 	b := []byte("who has it, and who had it")
 	for i := range b {
-		if More(Of(b[:i]), b[i:]) != Of(b) {
+		if crc.More(crc.Of(b[:i]), b[i:]) != crc.Of(b) {
 			t.Error("More does not go on", i)
 		}
 	}
 	for i := range len(b) - 2 {
 		for x := 1; x < 1<<24; x += 65521 {
-			s := Seal(b)
+			s := crc.Seal(b)
 			s[i] ^= byte(x)
 			s[i+1] ^= byte(x >> 8)
 			s[i+2] ^= byte(x >> 16)
-			if _, ok := Open(s); ok {
+			if _, ok := crc.Open(s); ok {
 				t.Error("changed, and opened", i, x)
 			}
 		}

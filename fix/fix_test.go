@@ -1,10 +1,11 @@
-package fix
+package fix_test
 
 import (
 	"math/big"
 	"testing"
 
 	"novation/api"
+	"novation/fix"
 )
 
 const least, most = -1 << 63, 1<<63 - 1
@@ -20,39 +21,39 @@ func meets(t *testing.T, what string, n int64, e api.Errno, b *big.Int) {
 }
 
 func TestP2_1(t *testing.T) {
-	if n, e := Sum(); n != 0 || e != api.OK {
+	if n, e := fix.Sum(); n != 0 || e != api.OK {
 		t.Error("Sum of none", n, e)
 	}
-	if n, e := Product(); n != 1 || e != api.OK {
+	if n, e := fix.Product(); n != 1 || e != api.OK {
 		t.Error("Product of none", n, e)
 	}
-	if n, e := Sum(most, 1, -1); n != most || e != api.OK {
+	if n, e := fix.Sum(most, 1, -1); n != most || e != api.OK {
 		t.Error("Sum beyond the edge and back", n, e)
 	}
-	if n, e := Product(1<<62, 4, 0); n != 0 || e != api.ErrRange {
+	if n, e := fix.Product(1<<62, 4, 0); n != 0 || e != api.ErrRange {
 		t.Error("Product beyond the edge and back", n, e)
 	}
-	if n, e := Product(0, most, most); n != 0 || e != api.OK {
+	if n, e := fix.Product(0, most, most); n != 0 || e != api.OK {
 		t.Error("Product from 0 on", n, e)
 	}
 	for _, a := range edges {
 		for _, b := range edges {
 			x, y := big.NewInt(a), big.NewInt(b)
-			n, e := Sum(a, b)
+			n, e := fix.Sum(a, b)
 			meets(t, "Sum", n, e, new(big.Int).Add(x, y))
-			n, e = Sub(a, b)
+			n, e = fix.Sub(a, b)
 			meets(t, "Sub", n, e, new(big.Int).Sub(x, y))
-			n, e = Product(a, b)
+			n, e = fix.Product(a, b)
 			meets(t, "Product", n, e, new(big.Int).Mul(x, y))
 		}
 	}
 }
 
 func TestP2_2_P2_4(t *testing.T) {
-	if q, r, e := Scale(7, 3, 2); q != 10 || r != 1 || e != api.OK {
+	if q, r, e := fix.Scale(7, 3, 2); q != 10 || r != 1 || e != api.OK {
 		t.Error("7 times 3 by 2", q, r, e)
 	}
-	if n, e := Up(7, 3, 2); n != 11 || e != api.OK {
+	if n, e := fix.Up(7, 3, 2); n != 11 || e != api.OK {
 		t.Error("7 times 3 by 2, upwards", n, e)
 	}
 	for _, a := range edges {
@@ -65,8 +66,8 @@ func TestP2_2_P2_4(t *testing.T) {
 }
 
 func scales(t *testing.T, a, n, d int64) {
-	q, r, e := Scale(a, n, d)
-	u, f := Up(a, n, d)
+	q, r, e := fix.Scale(a, n, d)
+	u, f := fix.Up(a, n, d)
 	want := api.ErrArg
 	if d == 0 {
 		want = api.ErrZero
@@ -92,13 +93,13 @@ func scales(t *testing.T, a, n, d int64) {
 
 func TestP2_3(t *testing.T) {
 	for _, a := range edges {
-		n, e := Abs(a)
+		n, e := fix.Abs(a)
 		meets(t, "Abs", n, e, new(big.Int).Abs(big.NewInt(a)))
-		if Most(a) != a || Least(a) != a {
+		if fix.Most(a) != a || fix.Least(a) != a {
 			t.Error("of one alone", a)
 		}
 		for _, b := range edges {
-			if Most(a, b, least) != max(a, b) || Least(a, most, b) != min(a, b) {
+			if fix.Most(a, b, least) != max(a, b) || fix.Least(a, most, b) != min(a, b) {
 				t.Error("Most, Least", a, b)
 			}
 			for _, c := range edges {
@@ -106,7 +107,7 @@ func TestP2_3(t *testing.T) {
 				if b > c {
 					want = b
 				}
-				if Clip(a, b, c) != want {
+				if fix.Clip(a, b, c) != want {
 					t.Error("Clip", a, b, c)
 				}
 			}
@@ -116,10 +117,10 @@ func TestP2_3(t *testing.T) {
 
 func TestP2_4(t *testing.T) {
 	l := []int64{most, least, most, 5, -7, least}
-	want, e := Sum(l...)
+	want, e := fix.Sum(l...)
 	for range l {
 		l = append(l[1:], l[0])
-		if n, f := Sum(l...); n != want || e != f {
+		if n, f := fix.Sum(l...); n != want || e != f {
 			t.Error("Sum by order", n, f)
 		}
 	}

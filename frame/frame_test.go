@@ -1,4 +1,4 @@
-package frame
+package frame_test
 
 import (
 	"bytes"
@@ -6,6 +6,7 @@ import (
 
 	"novation/api"
 	"novation/crc"
+	"novation/frame"
 )
 
 func data(n int) []byte {
@@ -16,36 +17,39 @@ func data(n int) []byte {
 	return b
 }
 
-func like(a, b Frame) bool {
-	return a.record() == b.record() && a.Part == b.Part && bytes.Equal(a.Data, b.Data)
+// record answers what all parts of one record have alike.
+func record(f frame.Frame) [4]int { return [4]int{f.Life, f.Era, f.Seq, f.Parts} }
+
+func like(a, b frame.Frame) bool {
+	return record(a) == record(b) && a.Part == b.Part && bytes.Equal(a.Data, b.Data)
 }
 
 func TestP7_1_Encode(t *testing.T) {
-	b, e := Encode(Frame{0x010203, 0x040506, 0x0708090a, 0x0b, 0x0c, []byte("xyz")})
+	b, e := frame.Encode(frame.Frame{0x010203, 0x040506, 0x0708090a, 0x0b, 0x0c, []byte("xyz")})
 	want := append([]byte{1, 2, 3, 4, 5, 6, 7, 8, 9, 10, 11, 12, 3, 'x', 'y', 'z'}, make([]byte, 77)...)
 	if e != api.OK || !bytes.Equal(b, crc.Seal(want)) || len(b) != api.Cell {
 		t.Errorf("%x %d", b, e)
 	}
-	fine := []Frame{{1, 0, 1, 0, 1, nil}, {1<<24 - 1, 1<<24 - 1, 1<<32 - 1, 254, 255, data(80)}}
+	fine := []frame.Frame{{1, 0, 1, 0, 1, nil}, {1<<24 - 1, 1<<24 - 1, 1<<32 - 1, 254, 255, data(80)}}
 	for _, f := range fine {
-		if b, e := Encode(f); e != api.OK || len(b) != api.Cell {
+		if b, e := frame.Encode(f); e != api.OK || len(b) != api.Cell {
 			t.Error(f, e)
 		}
 	}
-	for _, f := range []Frame{
+	for _, f := range []frame.Frame{
 		{0, 0, 1, 0, 1, nil}, {-1, 0, 1, 0, 1, nil}, {1 << 24, 0, 1, 0, 1, nil}, {1, -1, 1, 0, 1, nil}, {1, 1 << 24, 1, 0, 1, nil},
 		{1, 0, 0, 0, 1, nil}, {1, 0, 1 << 32, 0, 1, nil}, {1, 0, 1, 0, 0, nil}, {1, 0, 1, 0, 256, nil}, {1, 0, 1, -1, 1, nil},
 		{1, 0, 1, 1, 1, nil}, {1, 0, 1, 0, 1, data(81)}, {},
 	} {
-		if b, e := Encode(f); e != api.ErrArg || b != nil {
+		if b, e := frame.Encode(f); e != api.ErrArg || len(b) > 0 {
 			t.Error(f, b, e)
 		}
 	}
 }
 
 func TestP7_1_Decode(t *testing.T) {
-	good, _ := Encode(Frame{5, 0, 7, 1, 2, data(9)})
-	if f, e := Decode(good); e != api.OK || !like(f, Frame{5, 0, 7, 1, 2, data(9)}) {
+	good, _ := frame.Encode(frame.Frame{5, 0, 7, 1, 2, data(9)})
+	if f, e := frame.Decode(good); e != api.OK || !like(f, frame.Frame{5, 0, 7, 1, 2, data(9)}) {
 		t.Error(f, e)
 	}
 	seal := func(change func(b []byte)) []byte {
@@ -59,24 +63,24 @@ func TestP7_1_Decode(t *testing.T) {
 		seal(func(b []byte) { b[11] = 0 }), seal(func(b []byte) { b[12] = 81 }), seal(func(b []byte) { b[12] = 255 }),
 		seal(func(b []byte) { b[92] = 1 }), seal(func(b []byte) { b[12] = 8 }),
 	} {
-		if f, e := Decode(b); e != api.ErrForm || !like(f, Frame{}) {
+		if f, e := frame.Decode(b); e != api.ErrForm || !like(f, frame.Frame{}) {
 			t.Error(i, f, e)
 		}
 	}
 	for i := range good {
 		b := bytes.Clone(good)
 		b[i] ^= 4
-		if f, e := Decode(b); e != api.ErrForm || !like(f, Frame{}) {
+		if f, e := frame.Decode(b); e != api.ErrForm || !like(f, frame.Frame{}) {
 			t.Error("changed at", i, f, e)
 		}
 	}
 }
 
-func frames(t *testing.T, l [][]byte) []Frame {
+func frames(t *testing.T, l [][]byte) []frame.Frame {
 	t.Helper()
-	var out []Frame
+	var out []frame.Frame
 	for _, b := range l {
-		f, e := Decode(b)
+		f, e := frame.Decode(b)
 		if e != api.OK {
 			t.Fatal(e)
 		}
@@ -87,19 +91,19 @@ func frames(t *testing.T, l [][]byte) []Frame {
 
 func TestP7_2_P7_3(t *testing.T) {
 	for _, n := range []int{0, 1, 79, 80, 81, 100, 160, 161, 255 * 80} {
-		l, e := Cut(3, 4, 5, data(n))
+		l, e := frame.Cut(3, 4, 5, data(n))
 		if want := max(1, (n+79)/80); e != api.OK || len(l) != want {
 			t.Error("Cut", n, len(l), e)
 		}
 		fs := frames(t, l)
-		if b, ok := Join(fs); !ok || !bytes.Equal(b, data(n)) {
+		if b, ok := frame.Join(fs); !ok || !bytes.Equal(b, data(n)) {
 			t.Error("Join", n, ok)
 		}
 		for i, f := range fs {
-			if f.record() != [4]int{3, 4, 5, len(l)} || f.Part != i || len(f.Data) != min(80, n-80*i) {
+			if record(f) != [4]int{3, 4, 5, len(l)} || f.Part != i || len(f.Data) != min(80, n-80*i) {
 				t.Error("frame", i, f)
 			}
-			if b, e := Encode(f); e != api.OK || !bytes.Equal(b, l[i]) {
+			if b, e := frame.Encode(f); e != api.OK || !bytes.Equal(b, l[i]) {
 				t.Error("there and back", i)
 			}
 		}
@@ -108,36 +112,36 @@ func TestP7_2_P7_3(t *testing.T) {
 		life, era, seq, n int
 		e                 api.Errno
 	}{{1, 0, 1, 255*80 + 1, api.ErrBig}, {0, 0, 0, 255*80 + 1, api.ErrBig}, {0, 0, 1, 3, api.ErrArg}, {1, -1, 1, 3, api.ErrArg}, {1, 0, 0, 3, api.ErrArg}} {
-		if l, e := Cut(c.life, c.era, c.seq, data(c.n)); e != c.e || l != nil {
+		if l, e := frame.Cut(c.life, c.era, c.seq, data(c.n)); e != c.e || len(l) > 0 {
 			t.Error("Cut", c, e)
 		}
 	}
 }
 
 func TestP7_2_Join(t *testing.T) {
-	whole := func() []Frame {
-		l, _ := Cut(3, 4, 5, data(170))
+	whole := func() []frame.Frame {
+		l, _ := frame.Cut(3, 4, 5, data(170))
 		return frames(t, l)
 	}
-	for i, change := range []func(l []Frame) []Frame{
-		func(l []Frame) []Frame { return nil },
-		func(l []Frame) []Frame { return l[:2] },
-		func(l []Frame) []Frame { return l[1:] },
-		func(l []Frame) []Frame { return append(l, l[2]) },
-		func(l []Frame) []Frame { l[0], l[1] = l[1], l[0]; return l },
-		func(l []Frame) []Frame { l[1].Life++; return l },
-		func(l []Frame) []Frame { l[1].Era++; return l },
-		func(l []Frame) []Frame { l[1].Seq++; return l },
-		func(l []Frame) []Frame { l[1].Parts++; return l },
-		func(l []Frame) []Frame { l[1].Data = l[1].Data[:79]; return l },
-		func(l []Frame) []Frame { l[2].Data = data(81); return l },
-		func(l []Frame) []Frame { l[0].Life, l[1].Life, l[2].Life = 0, 0, 0; return l },
+	for i, change := range []func(l []frame.Frame) []frame.Frame{
+		func(l []frame.Frame) []frame.Frame { return nil },
+		func(l []frame.Frame) []frame.Frame { return l[:2] },
+		func(l []frame.Frame) []frame.Frame { return l[1:] },
+		func(l []frame.Frame) []frame.Frame { return append(l, l[2]) },
+		func(l []frame.Frame) []frame.Frame { l[0], l[1] = l[1], l[0]; return l },
+		func(l []frame.Frame) []frame.Frame { l[1].Life++; return l },
+		func(l []frame.Frame) []frame.Frame { l[1].Era++; return l },
+		func(l []frame.Frame) []frame.Frame { l[1].Seq++; return l },
+		func(l []frame.Frame) []frame.Frame { l[1].Parts++; return l },
+		func(l []frame.Frame) []frame.Frame { l[1].Data = l[1].Data[:79]; return l },
+		func(l []frame.Frame) []frame.Frame { l[2].Data = data(81); return l },
+		func(l []frame.Frame) []frame.Frame { l[0].Life, l[1].Life, l[2].Life = 0, 0, 0; return l },
 	} {
-		if b, ok := Join(change(whole())); ok || b != nil {
+		if b, ok := frame.Join(change(whole())); ok || len(b) > 0 {
 			t.Error(i, b, ok)
 		}
 	}
-	if b, ok := Join([]Frame{{1, 0, 1, 0, 2, data(80)}, {1, 0, 1, 1, 2, nil}}); !ok || len(b) != 80 {
+	if b, ok := frame.Join([]frame.Frame{{1, 0, 1, 0, 2, data(80)}, {1, 0, 1, 1, 2, nil}}); !ok || len(b) != 80 {
 		t.Error("the last one may be empty")
 	}
 }

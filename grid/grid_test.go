@@ -1,9 +1,10 @@
-package grid
+package grid_test
 
 import (
 	"testing"
 
 	"novation/api"
+	"novation/grid"
 	"novation/vec"
 	"novation/wide"
 )
@@ -41,35 +42,35 @@ func TestP24_1(t *testing.T) {
 		{legs(2, -1), []int64{5, 1, -1, 0, 0, 0, 0, -6}, 5, 0},
 	} {
 		for scen, want := range c.loss {
-			if w, e := Loss(insts(), c.legs, scen); w != wide.Of(want) || e != api.OK {
+			if w, e := grid.Loss(insts(), c.legs, scen); w != wide.Of(want) || e != api.OK {
 				t.Error("Loss", c.legs, scen, wide.Text(w), e)
 			}
 		}
 		for _, scen := range []int{-1, 8, least, most} {
-			if w, e := Loss(insts(), c.legs, scen); w != wide.Of(0) || e != api.OK {
+			if w, e := grid.Loss(insts(), c.legs, scen); w != wide.Of(0) || e != api.OK {
 				t.Error("Loss", c.legs, scen, wide.Text(w), e)
 			}
 		}
-		if n, e := Margin(insts(), c.legs); n != c.want || e != api.OK {
+		if n, e := grid.Margin(insts(), c.legs); n != c.want || e != api.OK {
 			t.Error("Margin", c.legs, n, e)
 		}
-		if n, e := Worst(insts(), c.legs); n != c.worst || e != api.OK {
+		if n, e := grid.Worst(insts(), c.legs); n != c.worst || e != api.OK {
 			t.Error("Worst", c.legs, n, e)
 		}
 	}
-	if n, e := Margin(insts(), legs(4, -most)); n != 0 || e != api.ErrRange {
+	if n, e := grid.Margin(insts(), legs(4, -most)); n != 0 || e != api.ErrRange {
 		t.Error("Margin that is too much", n, e)
 	}
-	if n, e := Worst(insts(), legs(4, -most)); n != 0 || e != api.OK {
+	if n, e := grid.Worst(insts(), legs(4, -most)); n != 0 || e != api.OK {
 		t.Error("Worst of that", n, e)
 	}
 	for _, c := range []struct {
 		legs []api.Leg
 		e    api.Errno
 	}{{legs(6, 1), api.ErrNone}, {legs(9, 1), api.ErrForm}, {legs(6, 1, 1, 0), api.ErrForm}, {legs(1, 1, 6, 1), api.ErrNone}} {
-		w, e := Loss(insts(), c.legs, 0)
-		n, f := Margin(insts(), c.legs)
-		x, g := Worst(insts(), c.legs)
+		w, e := grid.Loss(insts(), c.legs, 0)
+		n, f := grid.Margin(insts(), c.legs)
+		x, g := grid.Worst(insts(), c.legs)
 		if w != (wide.Wide{}) || e != c.e || n != 0 || f != c.e || x != -1 || g != c.e {
 			t.Error(c, w, e, n, f, x, g)
 		}
@@ -83,10 +84,10 @@ func TestP24_2(t *testing.T) {
 			y, _ := vec.With(legs(1, b*b+1), api.Leg{Inst: 2, Qty: b})
 			both, _ := vec.Add(x, y)
 			twice, _ := vec.Add(x, x)
-			m, _ := Margin(insts(), x)
-			n, _ := Margin(insts(), y)
-			one, _ := Margin(insts(), both)
-			two, _ := Margin(insts(), twice)
+			m, _ := grid.Margin(insts(), x)
+			n, _ := grid.Margin(insts(), y)
+			one, _ := grid.Margin(insts(), both)
+			two, _ := grid.Margin(insts(), twice)
 			if m < 0 || one > m+n || two != 2*m {
 				t.Error(x, y, m, n, one, two)
 			}

@@ -1,10 +1,11 @@
-package hold
+package hold_test
 
 import (
 	"slices"
 	"testing"
 
 	"novation/api"
+	"novation/hold"
 	"novation/wide"
 )
 
@@ -37,44 +38,44 @@ var none = [][]api.Hold{
 }
 
 func TestP26_1(t *testing.T) {
-	if !Is(nil) || !Is(start()) {
+	if !hold.Is(nil) || !hold.Is(start()) {
 		t.Error("are holds")
 	}
 	for _, l := range none {
-		if Is(l) {
+		if hold.Is(l) {
 			t.Error("are none", l)
 		}
-		a, e := Put(l, u(1, 1), lot(0, 0, 0))
-		b, f := Take(l, u(1, 1), lot(0, 0, 0))
-		c, g := Set(l, u(1, 1), nil)
-		d, h := Move(l, u(1, 1), u(1, 1))
-		x, i := Pass(l, u(1, 1), u(1, 1), lot(0, 0, 0), 0)
-		if a != nil || b != nil || c != nil || d != nil || x != nil || e != api.ErrForm || f != e || g != e || h != e || i != e {
+		a, e := hold.Put(l, u(1, 1), lot(0, 0, 0))
+		b, f := hold.Take(l, u(1, 1), lot(0, 0, 0))
+		c, g := hold.Set(l, u(1, 1), nil)
+		d, h := hold.Move(l, u(1, 1), u(1, 1))
+		x, i := hold.Pass(l, u(1, 1), u(1, 1), lot(0, 0, 0), 0)
+		if len(a) > 0 || len(b) > 0 || len(c) > 0 || len(d) > 0 || len(x) > 0 || e != api.ErrForm || f != e || g != e || h != e || i != e {
 			t.Error("ErrForm", l, e, f, g, h, i)
 		}
 	}
 	l := start()
-	Lots(l, u(1, 1))[0].Qty = 9
-	if !slices.Equal(Lots(l, u(1, 1)), []api.Lot{lot(1, 0, 5), lot(2, 3, 7)}) || Lots(l, u(1, 2)) != nil || Lots(none[4], u(1, 1))[0] != lot(1, 1, 1) {
+	hold.Lots(l, u(1, 1))[0].Qty = 9
+	if !slices.Equal(hold.Lots(l, u(1, 1)), []api.Lot{lot(1, 0, 5), lot(2, 3, 7)}) || len(hold.Lots(l, u(1, 2))) > 0 || hold.Lots(none[4], u(1, 1))[0] != lot(1, 1, 1) {
 		t.Error("Lots")
 	}
-	if wide.Text(Total(l, 1)) != "9223372036854775812" || Total(l, 2) != wide.Of(87) || Total(l, 3) != wide.Of(0) {
+	if wide.Text(hold.Total(l, 1)) != "9223372036854775812" || hold.Total(l, 2) != wide.Of(87) || hold.Total(l, 3) != wide.Of(0) {
 		t.Error("Total")
 	}
 }
 
 func TestP26_2(t *testing.T) {
 	l := start()
-	if m, e := Put(l, u(1, 1), lot(1, 0, 2)); e != api.OK || !like(m, []api.Hold{has(u(1, 1), lot(1, 0, 7), lot(2, 3, 7)), l[1], l[2]}) {
+	if m, e := hold.Put(l, u(1, 1), lot(1, 0, 2)); e != api.OK || !like(m, []api.Hold{has(u(1, 1), lot(1, 0, 7), lot(2, 3, 7)), l[1], l[2]}) {
 		t.Error("Put", m, e)
 	}
-	if m, e := Put(l, u(1, 9), lot(4, 255, 2)); e != api.OK || !like(m, []api.Hold{l[0], has(u(1, 9), lot(4, 255, 2)), l[1], l[2]}) {
+	if m, e := hold.Put(l, u(1, 9), lot(4, 255, 2)); e != api.OK || !like(m, []api.Hold{l[0], has(u(1, 9), lot(4, 255, 2)), l[1], l[2]}) {
 		t.Error("Put", m, e)
 	}
-	if m, e := Take(l, u(1, 1), lot(2, 3, 3)); e != api.OK || !like(m, []api.Hold{has(u(1, 1), lot(1, 0, 5), lot(2, 3, 4)), l[1], l[2]}) {
+	if m, e := hold.Take(l, u(1, 1), lot(2, 3, 3)); e != api.OK || !like(m, []api.Hold{has(u(1, 1), lot(1, 0, 5), lot(2, 3, 4)), l[1], l[2]}) {
 		t.Error("Take", m, e)
 	}
-	if m, e := Take(l, u(2, 0), lot(1, 1, most)); e != api.OK || !like(m, []api.Hold{l[0], l[2]}) {
+	if m, e := hold.Take(l, u(2, 0), lot(1, 1, most)); e != api.OK || !like(m, []api.Hold{l[0], l[2]}) {
 		t.Error("Take all", m, e)
 	}
 	for _, c := range []struct {
@@ -83,29 +84,29 @@ func TestP26_2(t *testing.T) {
 		x    api.Lot
 		e    api.Errno
 	}{
-		{Put, u(1, 1), lot(5, 0, 1), api.ErrArg}, {Put, u(2, 0), lot(1, 1, 1), api.ErrRange}, {Put, u(3, 0), lot(1, 1, 1), api.ErrLimit},
-		{Take, u(1, 1), lot(1, 0, 0), api.ErrArg}, {Take, u(1, 1), lot(1, 0, 6), api.ErrHeld}, {Take, u(9, 9), lot(1, 0, 6), api.ErrHeld},
+		{hold.Put, u(1, 1), lot(5, 0, 1), api.ErrArg}, {hold.Put, u(2, 0), lot(1, 1, 1), api.ErrRange}, {hold.Put, u(3, 0), lot(1, 1, 1), api.ErrLimit},
+		{hold.Take, u(1, 1), lot(1, 0, 0), api.ErrArg}, {hold.Take, u(1, 1), lot(1, 0, 6), api.ErrHeld}, {hold.Take, u(9, 9), lot(1, 0, 6), api.ErrHeld},
 	} {
-		if m, e := c.f(l, c.unit, c.x); m != nil || e != c.e {
+		if m, e := c.f(l, c.unit, c.x); len(m) > 0 || e != c.e {
 			t.Error(c.unit, c.x, m, e)
 		}
 	}
 	all := []api.Lot{lot(3, 3, 3)}
-	m, e := Set(l, u(2, 0), all)
+	m, e := hold.Set(l, u(2, 0), all)
 	all[0].Qty = 9
 	if e != api.OK || !like(m, []api.Hold{l[0], has(u(2, 0), lot(3, 3, 3)), l[2]}) {
 		t.Error("Set", m, e)
 	}
-	if m, e := Set(l, u(2, 0), nil); e != api.OK || !like(m, []api.Hold{l[0], l[2]}) {
+	if m, e := hold.Set(l, u(2, 0), nil); e != api.OK || !like(m, []api.Hold{l[0], l[2]}) {
 		t.Error("Set to nothing", m, e)
 	}
-	if m, e := Set(l, u(2, 5), nil); e != api.OK || !like(m, l) {
+	if m, e := hold.Set(l, u(2, 5), nil); e != api.OK || !like(m, l) {
 		t.Error("Set of nothing to nothing", m, e)
 	}
-	if m, e := Set(l, u(2, 0), []api.Lot{lot(3, 3, 0)}); m != nil || e != api.ErrForm {
+	if m, e := hold.Set(l, u(2, 0), []api.Lot{lot(3, 3, 0)}); len(m) > 0 || e != api.ErrForm {
 		t.Error("Set to none", m, e)
 	}
-	m, _ = Put(l, u(9, 9), lot(1, 1, 1))
+	m, _ = hold.Put(l, u(9, 9), lot(1, 1, 1))
 	if m[0].Lots[0].Qty = 77; !like(l, start()) {
 		t.Error("changed", l)
 	}
@@ -113,19 +114,19 @@ func TestP26_2(t *testing.T) {
 
 func TestP26_3(t *testing.T) {
 	l := start()
-	if m, e := Move(l, u(1, 1), u(5, 0)); e != api.OK || !like(m, []api.Hold{l[1], l[2], has(u(5, 0), l[0].Lots...)}) {
+	if m, e := hold.Move(l, u(1, 1), u(5, 0)); e != api.OK || !like(m, []api.Hold{l[1], l[2], has(u(5, 0), l[0].Lots...)}) {
 		t.Error("Move", m, e)
 	}
-	if m, e := Move(l, u(7, 7), u(5, 0)); e != api.OK || !like(m, l) {
+	if m, e := hold.Move(l, u(7, 7), u(5, 0)); e != api.OK || !like(m, l) {
 		t.Error("Move of nothing", m, e)
 	}
-	if m, e := Move(l, u(1, 1), u(1, 1)); m != nil || e != api.ErrSame {
+	if m, e := hold.Move(l, u(1, 1), u(1, 1)); len(m) > 0 || e != api.ErrSame {
 		t.Error("Move to itself", m, e)
 	}
-	if m, e := Move(l, u(7, 7), u(2, 0)); m != nil || e != api.ErrBusy {
+	if m, e := hold.Move(l, u(7, 7), u(2, 0)); len(m) > 0 || e != api.ErrBusy {
 		t.Error("Move to one that has something", m, e)
 	}
-	if m, e := Pass(l, u(1, 1), u(2, 0), lot(2, 3, 4), 0); e != api.OK || !like(m, []api.Hold{has(u(1, 1), lot(1, 0, 5), lot(2, 3, 3)), has(u(2, 0), lot(1, 1, most), lot(2, 0, 4)), l[2]}) {
+	if m, e := hold.Pass(l, u(1, 1), u(2, 0), lot(2, 3, 4), 0); e != api.OK || !like(m, []api.Hold{has(u(1, 1), lot(1, 0, 5), lot(2, 3, 3)), has(u(2, 0), lot(1, 1, most), lot(2, 0, 4)), l[2]}) {
 		t.Error("Pass", m, e)
 	}
 	for _, c := range []struct {
@@ -137,7 +138,7 @@ func TestP26_3(t *testing.T) {
 		{u(1, 1), u(1, 1), lot(0, 0, 0), 0, api.ErrSame}, {u(1, 1), u(2, 0), lot(1, 0, 0), 999, api.ErrArg}, {u(1, 1), u(2, 0), lot(1, 0, 6), -1, api.ErrHeld},
 		{u(1, 1), u(2, 0), lot(1, 0, 5), 256, api.ErrArg}, {u(1, 1), u(2, 0), lot(1, 0, 5), -1, api.ErrArg}, {u(1, 1), u(2, 0), lot(1, 0, 1), 1, api.ErrRange}, {u(1, 1), u(3, 0), lot(1, 0, 5), 1, api.ErrLimit},
 	} {
-		if m, e := Pass(l, c.from, c.to, c.x, c.tag); m != nil || e != c.e {
+		if m, e := hold.Pass(l, c.from, c.to, c.x, c.tag); len(m) > 0 || e != c.e {
 			t.Error("Pass", c, m, e)
 		}
 	}
@@ -148,22 +149,22 @@ func TestP26_3(t *testing.T) {
 
 func TestP26_4(t *testing.T) {
 	l := start()[:2]
-	m, e := Move(l, u(1, 1), u(1, 5))
-	back, f := Move(m, u(1, 5), u(1, 1))
-	if e != api.OK || f != api.OK || !like(back, l) || Lots(m, u(1, 1)) != nil || !slices.Equal(Lots(m, u(1, 5)), l[0].Lots) {
+	m, e := hold.Move(l, u(1, 1), u(1, 5))
+	back, f := hold.Move(m, u(1, 5), u(1, 1))
+	if e != api.OK || f != api.OK || !like(back, l) || len(hold.Lots(m, u(1, 1))) > 0 || !slices.Equal(hold.Lots(m, u(1, 5)), l[0].Lots) {
 		t.Error("there and back", m, back)
 	}
-	p, e := Pass(l, u(1, 1), u(4, 0), lot(1, 0, 3), 9)
-	q, f := Pass(p, u(4, 0), u(1, 1), lot(1, 9, 3), 0)
+	p, e := hold.Pass(l, u(1, 1), u(4, 0), lot(1, 0, 3), 9)
+	q, f := hold.Pass(p, u(4, 0), u(1, 1), lot(1, 9, 3), 0)
 	if e != api.OK || f != api.OK || !like(q, l) {
 		t.Error("there and back", p, q)
 	}
 	for asset := range 6 {
-		if Total(m, asset) != Total(l, asset) || Total(p, asset) != Total(l, asset) {
+		if hold.Total(m, asset) != hold.Total(l, asset) || hold.Total(p, asset) != hold.Total(l, asset) {
 			t.Error("Total", asset)
 		}
 	}
-	if !slices.Equal(Lots(p, u(2, 0)), l[1].Lots) {
+	if !slices.Equal(hold.Lots(p, u(2, 0)), l[1].Lots) {
 		t.Error("somebody else's")
 	}
 }

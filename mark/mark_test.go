@@ -1,10 +1,11 @@
-package mark
+package mark_test
 
 import (
 	"slices"
 	"testing"
 
 	"novation/api"
+	"novation/mark"
 	"novation/purse"
 	"novation/wide"
 )
@@ -41,7 +42,7 @@ func TestP20_1(t *testing.T) {
 		{legs(3, most), 0, api.ErrRange}, {legs(3, most, 4, most), 0, api.OK}, {legs(1, 1, 3, most, 4, most), 20, api.OK},
 		{legs(5, 1), 0, api.ErrNone}, {legs(3, most, 5, 1), 0, api.ErrNone}, {legs(1, 0), 0, api.ErrForm}, {legs(5, 1, 1, 1), 0, api.ErrForm},
 	} {
-		if n, e := Gain(insts(), c.legs); n != c.want || e != c.e {
+		if n, e := mark.Gain(insts(), c.legs); n != c.want || e != c.e {
 			t.Error("Gain", c.legs, n, e)
 		}
 	}
@@ -58,7 +59,7 @@ func TestP20_1(t *testing.T) {
 		{[]api.Pos{pos(u(1, 3), 5, 1), pos(u(1, 2), 3, most)}, nil, api.ErrForm},
 		{[]api.Pos{pos(u(1, 3))}, nil, api.ErrForm},
 	} {
-		if l, e := Flows(insts(), c.l); !slices.Equal(l, c.want) || e != c.e {
+		if l, e := mark.Flows(insts(), c.l); !slices.Equal(l, c.want) || e != c.e {
 			t.Error("Flows", c.l, l, e)
 		}
 	}
@@ -81,7 +82,7 @@ func TestP20_2(t *testing.T) {
 		{[]api.Pos{pos(u(1, 1), 5, 1)}, nil, nil, api.ErrNone},
 		{[]api.Pos{pos(u(1, 1))}, nil, nil, api.ErrForm},
 	} {
-		if p, e := Settle(insts(), c.l, c.p); !slices.Equal(p, c.want) || e != c.e {
+		if p, e := mark.Settle(insts(), c.l, c.p); !slices.Equal(p, c.want) || e != c.e {
 			t.Error("Settle", c.l, c.p, p, e)
 		}
 	}
@@ -89,12 +90,12 @@ func TestP20_2(t *testing.T) {
 
 func TestP20_3(t *testing.T) {
 	l := []api.Pos{pos(u(1, 1), 1, 3, 2, 7), pos(u(1, 2), 1, -9, 3, 5), pos(u(4, 2), 1, 6, 2, -7, 3, -5)}
-	flows, e := Flows(insts(), l)
+	flows, e := mark.Flows(insts(), l)
 	if e != api.OK || purse.Total(flows) != wide.Of(0) {
 		t.Error("Flows", flows, e)
 	}
 	p := []api.Flow{f(1, 2, 77), f(5, 5, -4)}
-	if q, e := Settle(insts(), l, p); e != api.OK || purse.Total(q) != wide.Of(73) || purse.Get(q, u(5, 5)) != -4 {
+	if q, e := mark.Settle(insts(), l, p); e != api.OK || purse.Total(q) != wide.Of(73) || purse.Get(q, u(5, 5)) != -4 {
 		t.Error("Settle", q, e)
 	}
 }

@@ -1,10 +1,11 @@
-package need
+package need_test
 
 import (
 	"slices"
 	"testing"
 
 	"novation/api"
+	"novation/need"
 )
 
 const most = 1<<63 - 1
@@ -34,8 +35,8 @@ func TestP25_1(t *testing.T) {
 		{account(api.Gross, 2, 5), []api.Unit{u(3, 2), u(3, 5)}, [][]api.Unit{{u(3, 2)}, {u(3, 5)}}},
 		{account(api.Seg, 7), []api.Unit{u(3, 7)}, [][]api.Unit{{u(3, 7)}}},
 	} {
-		if !slices.Equal(Units(c.a), c.units) {
-			t.Error("Units", c.a, Units(c.a))
+		if !slices.Equal(need.Units(c.a), c.units) {
+			t.Error("Units", c.a, need.Units(c.a))
 		}
 		for i := range 20 {
 			m := u(3, i)
@@ -43,8 +44,8 @@ func TestP25_1(t *testing.T) {
 			if at := slices.Index(c.units, m); at >= 0 {
 				parts = c.parts[at]
 			}
-			if !slices.Equal(Parts(c.a, m), parts) || Parts(c.a, u(4, i)) != nil {
-				t.Error("Parts", c.a, m, Parts(c.a, m))
+			if !slices.Equal(need.Parts(c.a, m), parts) || len(need.Parts(c.a, u(4, i))) > 0 {
+				t.Error("Parts", c.a, m, need.Parts(c.a, m))
 			}
 			want, is := api.Unit{}, false
 			for at, l := range c.parts {
@@ -52,11 +53,11 @@ func TestP25_1(t *testing.T) {
 					want, is = c.units[at], true
 				}
 			}
-			if x, ok := Unit(c.a, m); x != want || ok != is {
+			if x, ok := need.Unit(c.a, m); x != want || ok != is {
 				t.Error("Unit", c.a, m, x, ok)
 			}
 		}
-		if x, ok := Unit(c.a, u(4, 2)); ok || x != u(0, 0) {
+		if x, ok := need.Unit(c.a, u(4, 2)); ok || x != u(0, 0) {
 			t.Error("another account's", x, ok)
 		}
 	}
@@ -78,7 +79,7 @@ func TestP25_2(t *testing.T) {
 		{l, account(api.Gross, 6), u(3, 6), 0, api.ErrNone}, {l, net, u(4, 0), 0, api.ErrRange}, {l, gross, u(4, 1), 0, api.ErrRange}, {l, gross, u(4, 3), most, api.OK},
 		{[]api.Pos{{}}, account(api.House), u(9, 9), 0, api.ErrForm},
 	} {
-		if n, e := Of(insts, c.l, c.a, c.unit); n != c.want || e != c.e {
+		if n, e := need.Of(insts, c.l, c.a, c.unit); n != c.want || e != c.e {
 			t.Error("Of", c.a, c.unit, n, e)
 		}
 	}
@@ -91,7 +92,7 @@ func TestP25_2(t *testing.T) {
 		{l, account(api.Net, 2, 5), 0, api.OK}, {l, account(api.Gross, 2, 5), 200, api.OK}, {l, account(api.House), 20, api.OK}, {l, account(api.Gross), 0, api.OK},
 		{l, gross, 0, api.ErrRange}, {l, api.Account{Id: 4, Kind: api.Gross, Clients: []int{3, 4}}, 0, api.ErrRange}, {l, account(api.Gross, 2, 6), 0, api.ErrNone}, {[]api.Pos{{}}, account(api.House), 0, api.ErrForm},
 	} {
-		if n, e := All(insts, c.l, c.a); n != c.want || e != c.e {
+		if n, e := need.All(insts, c.l, c.a); n != c.want || e != c.e {
 			t.Error("All", c.a, n, e)
 		}
 	}
@@ -105,8 +106,8 @@ func TestP25_3(t *testing.T) {
 				l = append(l, pos(u(3, i+1), 1+i%2, q))
 			}
 		}
-		net, e := All(insts, l, account(api.Net, 1, 2, 3))
-		gross, f := All(insts, l, account(api.Gross, 1, 2, 3))
+		net, e := need.All(insts, l, account(api.Net, 1, 2, 3))
+		gross, f := need.All(insts, l, account(api.Gross, 1, 2, 3))
 		if e != api.OK || f != api.OK || net > gross {
 			t.Error(l, net, gross)
 		}

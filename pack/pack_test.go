@@ -1,4 +1,4 @@
-package pack
+package pack_test
 
 import (
 	"bytes"
@@ -6,6 +6,7 @@ import (
 	"testing"
 
 	"novation/api"
+	"novation/pack"
 )
 
 const least, most = -1 << 63, 1<<63 - 1
@@ -18,17 +19,17 @@ func TestP4_1(t *testing.T) {
 		{0, "\x00"}, {-1, "\x01"}, {1, "\x02"}, {63, "\x7e"}, {-64, "\x7f"}, {64, "\x80\x01"}, {-65, "\x81\x01"},
 		{most, "\xfe\xff\xff\xff\xff\xff\xff\xff\xff\x01"}, {least, "\xff\xff\xff\xff\xff\xff\xff\xff\xff\x01"},
 	} {
-		if b := New().Int(c.n).Done(); string(b) != c.want {
+		if b := pack.New().Int(c.n).Done(); string(b) != c.want {
 			t.Errorf("%d: %x", c.n, b)
 		}
 	}
-	if b := New().Text("ab").Text("").Done(); string(b) != "\x04ab\x00" {
+	if b := pack.New().Text("ab").Text("").Done(); string(b) != "\x04ab\x00" {
 		t.Errorf("%x", b)
 	}
 }
 
 func TestP4_2(t *testing.T) {
-	w := New()
+	w := pack.New()
 	if w.Int(1, -1) != w || w.Text("x") != w || w.Int() != w {
 		t.Error("not the writer")
 	}
@@ -40,15 +41,15 @@ func TestP4_2(t *testing.T) {
 	if w.Int(0); string(w.Done()) != "\x02\x01\x02x\x00" {
 		t.Errorf("%x", w.Done())
 	}
-	if New().Done() != nil {
+	if len(pack.New().Done()) > 0 {
 		t.Error("bytes of nothing")
 	}
-	var none *Writer
-	if none.Int(1) != nil || none.Text("a") != nil || none.Done() != nil {
+	var none *pack.Writer
+	if none.Int(1) != nil || none.Text("a") != nil || len(none.Done()) > 0 {
 		t.Error("nil")
 	}
-	var zero Writer
-	if zero.Int(1) != &zero || zero.Text("a") != &zero || zero.Done() != nil {
+	var zero pack.Writer
+	if zero.Int(1) != &zero || zero.Text("a") != &zero || len(zero.Done()) > 0 {
 		t.Error("zero")
 	}
 }
@@ -77,7 +78,7 @@ func TestP4_3_Int(t *testing.T) {
 		{strings.Repeat("\xff", 10), 0, 1, 0, api.ErrForm},
 		{"\x02", 5, 1, 0, api.ErrRange},
 	} {
-		r := Open([]byte(c.b))
+		r := pack.Open([]byte(c.b))
 		n := r.Int(c.lo, c.hi)
 		if n != c.n || r.Err() != c.e || r.End() != c.e || r.Left() != 0 {
 			t.Errorf("%x: %d %d %d", c.b, n, r.Err(), r.Left())
@@ -103,7 +104,7 @@ func TestP4_3_Text(t *testing.T) {
 		{"\x00", -1, "", api.ErrRange, api.ErrRange},
 		{"\x00", 0, "", api.OK, api.OK},
 	} {
-		r := Open([]byte(c.b))
+		r := pack.Open([]byte(c.b))
 		if s := r.Text(c.most); s != c.s || r.Err() != c.e || r.End() != c.end {
 			t.Errorf("%x: %q %d %d", c.b, s, r.Err(), r.End())
 		}
@@ -112,7 +113,7 @@ func TestP4_3_Text(t *testing.T) {
 
 func TestP4_3_Ends(t *testing.T) {
 	b := []byte("\x02\x09\x04")
-	r := Open(b)
+	r := pack.Open(b)
 	b[0] = 0
 	if r.Left() != 3 || r.Int(1, 1) != 1 || r.End() != api.ErrRest || r.Err() != api.OK {
 		t.Error("a reader in its midst")
@@ -123,7 +124,7 @@ func TestP4_3_Ends(t *testing.T) {
 	if r.Int(least, most) != 0 || r.Text(9) != "" || r.End() != api.ErrRange {
 		t.Error("behind an error")
 	}
-	for _, r := range []*Reader{nil, {}} {
+	for _, r := range []*pack.Reader{nil, {}} {
 		if r.Int(0, 1) != 0 || r.Text(1) != "" || r.Left() != 0 || r.Err() != api.ErrNil || r.End() != api.ErrNil {
 			t.Error("nil, zero")
 		}
@@ -132,12 +133,12 @@ func TestP4_3_Ends(t *testing.T) {
 
 func TestP4_4(t *testing.T) {
 	l := []int64{0, 1, -1, 63, 64, -64, -65, 8191, 8192, 1 << 40, least, most, -1 << 55}
-	w := New()
+	w := pack.New()
 	for _, n := range l {
 		w.Int(n).Text(strings.Repeat("z", int(uint64(n)%200)))
 	}
 	b := w.Done()
-	r, again := Open(b), New()
+	r, again := pack.Open(b), pack.New()
 	for _, n := range l {
 		m, s := r.Int(least, most), r.Text(200)
 		if m != n || len(s) != int(uint64(n)%200) {
@@ -150,8 +151,8 @@ func TestP4_4(t *testing.T) {
 	}
 	for x := range 1 << 16 { // whatever is read with no error is what would be written
 		b := []byte{byte(x >> 8), byte(x)}
-		r := Open(b)
-		if n := r.Int(least, most); r.End() == api.OK && !bytes.Equal(New().Int(n).Done(), b) {
+		r := pack.Open(b)
+		if n := r.Int(least, most); r.End() == api.OK && !bytes.Equal(pack.New().Int(n).Done(), b) {
 			t.Errorf("%x", b)
 		}
 	}

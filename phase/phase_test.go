@@ -1,10 +1,11 @@
-package phase
+package phase_test
 
 import (
 	"testing"
 
 	"novation/api"
 	"novation/member"
+	"novation/phase"
 )
 
 func one(phase, until int) api.Member {
@@ -34,11 +35,11 @@ func TestP28_1(t *testing.T) {
 		var e api.Errno
 		switch c.name {
 		case "Fail":
-			m, e = Fail(c.m, c.day, c.days)
+			m, e = phase.Fail(c.m, c.day, c.days)
 		case "Sell":
-			m, e = Sell(c.m, c.day)
+			m, e = phase.Sell(c.m, c.day)
 		default:
-			m, e = Close(c.m, c.day)
+			m, e = phase.Close(c.m, c.day)
 		}
 		if m != c.want || e != c.e {
 			t.Error(c, m, e)
@@ -47,34 +48,34 @@ func TestP28_1(t *testing.T) {
 }
 
 func TestP28_2(t *testing.T) {
-	m, _ := Fail(one(0, 0), 5, 2)
+	m, _ := phase.Fail(one(0, 0), 5, 2)
 	for day, soon := range map[int]int{5: 3, 6: 2, 7: 1, 8: 0, 9: 0, 1 << 40: 0} {
 		want := api.OK
 		if soon == 0 {
 			want = api.ErrWindow
 		}
-		if Open(m, day) != want || Soon(m, day) != soon {
+		if phase.Open(m, day) != want || phase.Soon(m, day) != soon {
 			t.Error("Open, Soon", day)
 		}
 	}
-	if _, e := Sell(m, 7); e != api.ErrWindow {
+	if _, e := phase.Sell(m, 7); e != api.ErrWindow {
 		t.Error("Sell on 7", e)
 	}
-	if _, e := Sell(m, 8); e != api.OK {
+	if _, e := phase.Sell(m, 8); e != api.OK {
 		t.Error("Sell on 8", e)
 	}
 }
 
 func TestP28_3(t *testing.T) {
-	for phase := range 4 {
-		m := one(phase, 7)
-		if (Open(m, 3) == api.OK) != (phase == member.Window) || (Soon(m, 3) > 0) != (phase == member.Window) {
-			t.Error("open", phase)
+	for p := range 4 {
+		m := one(p, 7)
+		if (phase.Open(m, 3) == api.OK) != (p == member.Window) || (phase.Soon(m, 3) > 0) != (p == member.Window) {
+			t.Error("open", p)
 		}
 		for _, f := range []func() (api.Member, api.Errno){
-			func() (api.Member, api.Errno) { return Fail(m, 9, 1) }, func() (api.Member, api.Errno) { return Sell(m, 9) }, func() (api.Member, api.Errno) { return Close(m, 9) },
+			func() (api.Member, api.Errno) { return phase.Fail(m, 9, 1) }, func() (api.Member, api.Errno) { return phase.Sell(m, 9) }, func() (api.Member, api.Errno) { return phase.Close(m, 9) },
 		} {
-			if n, e := f(); e == api.OK && (n.Phase != phase+1 || member.Check(n) != api.OK) {
+			if n, e := f(); e == api.OK && (n.Phase != p+1 || member.Check(n) != api.OK) {
 				t.Error("not one by one", m, n)
 			}
 		}

@@ -1,16 +1,19 @@
-package port
+package port_test
 
 import (
-	"reflect"
+	"fmt"
 	"slices"
 	"testing"
 
 	"novation/api"
 	"novation/book"
-	"novation/dup"
 	"novation/hold"
+	"novation/port"
 	"novation/purse"
 )
+
+// same tells whether two things are alike: none and nothing are one.
+func same(a, b any) bool { return fmt.Sprintf("%d", a) == fmt.Sprintf("%d", b) }
 
 const least, most = -1 << 63, 1<<63 - 1
 
@@ -41,16 +44,16 @@ func start() api.State {
 func TestP29_1(t *testing.T) {
 	s := start()
 	for id, want := range map[int]int64{1: 11, 2: 12, 3: 0, 7: 0, 9: 0} {
-		if n, e := Used(s, id); n != want || e != api.OK {
+		if n, e := port.Used(s, id); n != want || e != api.OK {
 			t.Error("Used", id, n, e)
 		}
 	}
 	s.Book = []api.Pos{pos(u(1, 1), 1, most), pos(u(1, 2), 1, most)}
-	if n, e := Used(s, 1); n != 0 || e != api.ErrRange {
+	if n, e := port.Used(s, 1); n != 0 || e != api.ErrRange {
 		t.Error("Used", n, e)
 	}
 	s.Book = []api.Pos{{}}
-	if n, e := Used(s, 9); n != 0 || e != api.ErrForm {
+	if n, e := port.Used(s, 9); n != 0 || e != api.ErrForm {
 		t.Error("Used", n, e)
 	}
 }
@@ -58,7 +61,7 @@ func TestP29_1(t *testing.T) {
 func elects(s *api.State, to api.Unit) { s.Choices[0].To = to }
 
 func TestP29_2(t *testing.T) {
-	if to, e := May(start(), u(1, 2)); to != u(3, 2) || e != api.OK {
+	if to, e := port.May(start(), u(1, 2)); to != u(3, 2) || e != api.OK {
 		t.Error("May", to, e)
 	}
 	for i, c := range []struct {
@@ -81,10 +84,10 @@ func TestP29_2(t *testing.T) {
 	} {
 		s := start()
 		c.spoil(&s)
-		if to, e := May(s, c.from); to != u(0, 0) || e != c.e {
+		if to, e := port.May(s, c.from); to != u(0, 0) || e != c.e {
 			t.Error("May", i, to, e)
 		}
-		if x, to, e := Port(s, c.from); to != u(0, 0) || e != c.e || !reflect.DeepEqual(x, api.State{}) {
+		if x, to, e := port.Port(s, c.from); to != u(0, 0) || e != c.e || !same(x, api.State{}) {
 			t.Error("Port", i, to, e)
 		}
 	}
@@ -92,17 +95,17 @@ func TestP29_2(t *testing.T) {
 
 func TestP29_3(t *testing.T) {
 	s := start()
-	x, to, e := Port(s, u(1, 2))
+	x, to, e := port.Port(s, u(1, 2))
 	want := start()
 	want.Choices = want.Choices[1:]
 	want.Book = []api.Pos{pos(u(1, 1), 1, 3), pos(u(3, 2), 1, -8), pos(u(3, 4), 1, 5), pos(u(4, 0), 2, -7)}
 	want.Purse = []api.Flow{{Unit: u(1, 1), Amount: 3}, {Unit: u(3, 2), Amount: -50}, {Unit: u(3, 4), Amount: 6}}
 	want.Holds = []api.Hold{{Unit: u(1, 1), Lots: lots(8)}, {Unit: u(3, 2), Lots: lots(4)}}
-	if to != u(3, 2) || e != api.OK || !reflect.DeepEqual(dup.State(x), dup.State(want)) {
+	if to != u(3, 2) || e != api.OK || !same(x, want) {
 		t.Error("Port", x, to, e)
 	}
 	x.Accounts[0].Clients[0], x.Book[0].Legs[0].Qty, x.Holds[0].Lots[0].Qty, x.Members[0].Cap, x.Choices[0].To = 9, 9, 9, 1, u(0, 0)
-	if !reflect.DeepEqual(s, start()) {
+	if !same(s, start()) {
 		t.Error("changed", s)
 	}
 	for i, c := range []struct {
@@ -115,19 +118,24 @@ func TestP29_3(t *testing.T) {
 	} {
 		s := start()
 		c.spoil(&s)
-		if _, e := May(s, u(1, 2)); e != api.OK {
+		if _, e := port.May(s, u(1, 2)); e != api.OK {
 			t.Error("May", i, e)
 		}
-		if x, to, e := Port(s, u(1, 2)); to != u(0, 0) || e != c.e || !reflect.DeepEqual(x, api.State{}) {
+		if x, to, e := port.Port(s, u(1, 2)); to != u(0, 0) || e != c.e || !same(x, api.State{}) {
 			t.Error("Port", i, to, e)
 		}
 	}
 }
 
+// has tells whether a unit has anything.
+func has(s api.State, unit api.Unit) bool {
+	return len(book.Of(s.Book, unit)) > 0 || purse.Get(s.Purse, unit) != 0 || len(hold.Lots(s.Holds, unit)) > 0
+}
+
 func TestP29_4(t *testing.T) {
 	s := start()
-	x, to, _ := Port(s, u(1, 2))
-	if purse.Get(x.Purse, to) != -50 || !slices.Equal(hold.Lots(x.Holds, to), lots(4)) || busy(x, u(1, 2)) {
+	x, to, _ := port.Port(s, u(1, 2))
+	if purse.Get(x.Purse, to) != -50 || !slices.Equal(hold.Lots(x.Holds, to), lots(4)) || has(x, u(1, 2)) {
 		t.Error("not what it had", x)
 	}
 	for _, o := range []api.Unit{u(1, 1), u(1, 3), u(3, 4), u(4, 0), u(2, 0)} {
@@ -135,7 +143,7 @@ func TestP29_4(t *testing.T) {
 			t.Error("somebody else", o)
 		}
 	}
-	if _, _, e := Port(x, u(1, 2)); e != api.ErrElect {
+	if _, _, e := port.Port(x, u(1, 2)); e != api.ErrElect {
 		t.Error("again", e)
 	}
 }

@@ -1,10 +1,11 @@
-package purse
+package purse_test
 
 import (
 	"slices"
 	"testing"
 
 	"novation/api"
+	"novation/purse"
 	"novation/wide"
 )
 
@@ -20,24 +21,24 @@ var none = [][]api.Flow{{f(1, 1, 0)}, {f(1, 2, 1), f(1, 1, 1)}, {f(1, 1, 1), f(1
 
 func TestP17_1(t *testing.T) {
 	l := []api.Flow{f(0, 0, -4), f(1, 1, least), f(1, 2, most), f(2, 0, 3)}
-	if !Is(nil) || !Is(l) {
+	if !purse.Is(nil) || !purse.Is(l) {
 		t.Error("are purses")
 	}
 	for _, l := range none {
-		if Is(l) {
+		if purse.Is(l) {
 			t.Error("is none", l)
 		}
-		if m, e := Pay(l, f(1, 1, most), f(1, 1, most)); m != nil || e != api.ErrForm {
+		if m, e := purse.Pay(l, f(1, 1, most), f(1, 1, most)); len(m) > 0 || e != api.ErrForm {
 			t.Error("Pay", m, e)
 		}
-		if m, e := Move(l, u(1, 1), u(1, 1), least); m != nil || e != api.ErrForm {
+		if m, e := purse.Move(l, u(1, 1), u(1, 1), least); len(m) > 0 || e != api.ErrForm {
 			t.Error("Move", m, e)
 		}
 	}
-	if Get(l, u(1, 2)) != most || Get(l, u(1, 3)) != 0 || Get([]api.Flow{f(1, 1, 7), f(1, 1, 8)}, u(1, 1)) != 7 {
+	if purse.Get(l, u(1, 2)) != most || purse.Get(l, u(1, 3)) != 0 || purse.Get([]api.Flow{f(1, 1, 7), f(1, 1, 8)}, u(1, 1)) != 7 {
 		t.Error("Get")
 	}
-	if Total(l) != wide.Of(-2) || Total(nil) != wide.Of(0) || wide.Text(Total([]api.Flow{f(1, 1, most), f(1, 1, most)})) != "18446744073709551614" {
+	if purse.Total(l) != wide.Of(-2) || purse.Total(nil) != wide.Of(0) || wide.Text(purse.Total([]api.Flow{f(1, 1, most), f(1, 1, most)})) != "18446744073709551614" {
 		t.Error("Total")
 	}
 }
@@ -56,7 +57,7 @@ func TestP17_2(t *testing.T) {
 		{[]api.Flow{f(1, 1, most), f(1, 1, -5)}, []api.Flow{f(1, 1, most), f(2, 2, -3)}, api.OK},
 		{[]api.Flow{f(9, 9, least), f(9, 9, -1)}, nil, api.ErrRange},
 	} {
-		if m, e := Pay(l, c.flows...); !slices.Equal(m, c.want) || e != c.e {
+		if m, e := purse.Pay(l, c.flows...); !slices.Equal(m, c.want) || e != c.e {
 			t.Error("Pay", c.flows, m, e)
 		}
 	}
@@ -76,11 +77,11 @@ func TestP17_2(t *testing.T) {
 		{u(3, 1), u(1, 1), most - 4, nil, api.ErrRange},
 		{u(3, 1), u(4, 1), 0, l, api.OK},
 	} {
-		if m, e := Move(l, c.from, c.to, c.amount); !slices.Equal(m, c.want) || e != c.e {
+		if m, e := purse.Move(l, c.from, c.to, c.amount); !slices.Equal(m, c.want) || e != c.e {
 			t.Error("Move", c, m, e)
 		}
 	}
-	if m, e := Move(nil, u(1, 0), u(2, 0), 5); !slices.Equal(m, []api.Flow{f(1, 0, -5), f(2, 0, 5)}) || e != api.OK {
+	if m, e := purse.Move(nil, u(1, 0), u(2, 0), 5); !slices.Equal(m, []api.Flow{f(1, 0, -5), f(2, 0, 5)}) || e != api.OK {
 		t.Error("Move of nothing", m, e)
 	}
 }
@@ -88,16 +89,16 @@ func TestP17_2(t *testing.T) {
 func TestP17_3(t *testing.T) {
 	l := []api.Flow{f(1, 1, 5), f(2, 2, -3), f(3, 3, most)}
 	flows := []api.Flow{f(3, 3, -7), f(3, 3, 6), f(1, 1, -5), f(8, 8, 2), f(2, 7, 1), f(3, 3, 1)}
-	want, e := Pay(l, flows...)
+	want, e := purse.Pay(l, flows...)
 	for range flows {
 		flows = append(flows[1:], flows[0])
-		if m, x := Pay(l, flows...); !slices.Equal(m, want) || e != x || !Is(m) || Get(m, u(2, 2)) != -3 {
+		if m, x := purse.Pay(l, flows...); !slices.Equal(m, want) || e != x || !purse.Is(m) || purse.Get(m, u(2, 2)) != -3 {
 			t.Error("Pay by order", m, x)
 		}
 	}
 	for amount := int64(-9); amount < 9; amount++ {
-		m, e := Move(l, u(1, 1), u(2, 2), amount)
-		if e != api.OK || Total(m) != Total(l) || Get(m, u(3, 3)) != most || !Is(m) {
+		m, e := purse.Move(l, u(1, 1), u(2, 2), amount)
+		if e != api.OK || purse.Total(m) != purse.Total(l) || purse.Get(m, u(3, 3)) != most || !purse.Is(m) {
 			t.Error("Move", amount, m, e)
 		}
 	}

