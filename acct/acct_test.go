@@ -151,3 +151,27 @@ func TestP15_4(t *testing.T) {
 		a = b
 	}
 }
+
+func TestP15_3_First(t *testing.T) {
+	l := []api.Account{{Id: 1, Member: 2, Kind: api.Net, Clients: []int{3}}}
+	if a, ok := acct.Find(l, 1); !ok || a.Member != 2 {
+		t.Error("Find the first", a, ok)
+	}
+	if x, e := acct.Put(l, api.Account{Id: 1, Member: 2, Kind: api.Net}); len(x) > 0 || e != api.ErrThere {
+		t.Error("the first is there", x, e)
+	}
+	clients := []int{4}
+	set, e := acct.Set(l, api.Account{Id: 1, Member: 5, Kind: api.Gross, Clients: clients})
+	if e != api.OK || set[0].Member != 5 || l[0].Member != 2 {
+		t.Error("Set the first", set, e)
+	}
+	put, _ := acct.Put(l, api.Account{Id: 2, Member: 5, Kind: api.Gross, Clients: clients})
+	other, _ := acct.Set(put, api.Account{Id: 2, Member: 6, Kind: api.House})
+	of := acct.Of(l, 2)
+	if l[0].Clients[0], clients[0] = 9, 9; set[0].Clients[0] != 4 || put[0].Clients[0] != 3 || put[1].Clients[0] != 4 || of[0].Clients[0] != 3 {
+		t.Error("shared", set, put, of)
+	}
+	if put[0].Clients[0] = 8; other[0].Clients[0] != 3 {
+		t.Error("shared", other)
+	}
+}

@@ -116,3 +116,24 @@ func TestP12_3(t *testing.T) {
 		}
 	}
 }
+
+func TestP12_1_First(t *testing.T) {
+	l := make([]api.Asset, 1, 4)
+	l[0] = api.Asset{Id: 1, Price: 5}
+	if a, ok := asset.Find(l, 1); !ok || a.Price != 5 {
+		t.Error("Find the first", a, ok)
+	}
+	if m, e := asset.Priced(l, 1, 7); e != api.OK || m[0].Price != 7 || l[0].Price != 5 {
+		t.Error("Priced the first", m, e)
+	}
+	if m, e := asset.Priced(l, 1, 0); e != api.OK || m[0].Price != 0 {
+		t.Error("a price of nothing", m, e)
+	}
+	if m, e := asset.Put(l, api.Asset{Id: 1}); len(m) > 0 || e != api.ErrThere {
+		t.Error("the first is there", m, e)
+	}
+	a, _ := asset.Put(l, api.Asset{Id: 2})
+	if b, _ := asset.Put(l, api.Asset{Id: 3}); a[1].Id != 2 || b[1].Id != 3 || l[:2][1].Id != 0 {
+		t.Error("shared", a, b)
+	}
+}

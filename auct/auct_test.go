@@ -55,8 +55,12 @@ func TestP30_1(t *testing.T) {
 	if !like(s, start()) {
 		t.Error("changed", s)
 	}
-	if x, e := auct.Start(s, 9); e != api.OK || !like(x, s) || len(auct.Left(s, 9)) != 0 {
+	x, e = auct.Start(s, 9)
+	if e != api.OK || !like(x, s) || len(auct.Left(s, 9)) > 0 {
 		t.Error("of nobody", x, e)
+	}
+	if x.Sale[0].Legs[0].Qty, x.Book[0].Legs[0].Qty, x.Accounts[0].Clients[0] = 77, 77, 77; !like(s, start()) {
+		t.Error("changed", s)
 	}
 	s.Sale[0] = pos(u(1, 1), 1, most)
 	if x, e := auct.Start(s, 1); e != api.ErrRange || !like(x, api.State{}) {
@@ -94,6 +98,19 @@ func TestP30_2(t *testing.T) {
 	want.Purse = []api.Flow{{Unit: u(1, 1), Amount: -55}, {Unit: u(1, 2), Amount: -50}, {Unit: u(3, 0), Amount: 110}}
 	if e != api.OK || !like(x, want) {
 		t.Error("Fill", x, e)
+	}
+}
+
+func TestP30_2_Edges(t *testing.T) {
+	for _, price := range []int64{0, 1<<31 - 1} {
+		s := start()
+		x, e := auct.Fill(s, u(1, 1), u(3, 0), 1, 2, price)
+		if e != api.OK || purse.Get(x.Purse, u(3, 0)) != 20*(7-price) {
+			t.Error("Fill", price, x.Purse, e)
+		}
+		if x.Accounts[0].Clients[0], x.Members[0].Cap, x.Sale[0].Legs[0].Qty = 77, 77, 77; !like(s, start()) {
+			t.Error("changed", s)
+		}
 	}
 }
 

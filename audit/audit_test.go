@@ -87,6 +87,9 @@ func TestP39_3(t *testing.T) {
 		t.Error("passes")
 	}
 	for i, spoil := range []func(s *api.State){
+		func(s *api.State) {
+			s.Book = append(s.Book, api.Pos{Unit: u(1, 2), Legs: []api.Leg{{Inst: 1, Qty: 1}}})
+		}, func(s *api.State) { s.Holds[0].Lots = append([]api.Lot{lot(1, 1)}, s.Holds[0].Lots...) },
 		func(s *api.State) { s.Book = pos(4) }, func(s *api.State) { s.Sale = nil }, func(s *api.State) { s.Purse[0].Amount = 6 }, func(s *api.State) { s.Holds[0].Lots[0].Qty = 6 }, func(s *api.State) { s.Holds[0].Lots[0].Asset = 3 },
 		func(s *api.State) { s.Holds = nil }, func(s *api.State) { s.Purse = nil },
 	} {

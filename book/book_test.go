@@ -46,6 +46,9 @@ func TestP19_1(t *testing.T) {
 		if m, e := book.Shift(l, u(1, 1), bad); len(m) > 0 || e != api.ErrForm {
 			t.Error("Shift", m, e)
 		}
+		if m, e := book.Shift(l, u(7, 1), legs(1, 1)); len(m) > 0 || e != api.ErrForm {
+			t.Error("Shift", m, e)
+		}
 		if m, e := book.Move(l, u(1, 1), u(1, 2), legs(1, least)); len(m) > 0 || e != api.ErrForm {
 			t.Error("Move", m, e)
 		}

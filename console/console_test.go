@@ -66,7 +66,8 @@ report 01
 report  1
 report 1 
 report 1
-report 2
+left
+report 8
 Report
 left 1
 report
@@ -89,6 +90,7 @@ member 1 active until 0 cap 9 used 0
 account 1 house member 1
 margin 1.0 need 0 excess 5
 unit 1.0 cash 5
+left 5
 error 3
 error 3
 day 0

@@ -101,7 +101,7 @@ func TestP27_2(t *testing.T) {
 		want []api.Flow
 		e    api.Errno
 	}{
-		{nil, nil, api.OK}, {[]api.Account{net}, nil, api.OK},
+		{nil, nil, api.OK}, {[]api.Account{net}, nil, api.OK}, {[]api.Account{{Id: 9, Member: 1, Kind: api.House}}, nil, api.OK},
 		{[]api.Account{gross, house}, []api.Flow{{Unit: u(2, 1), Amount: -207}, {Unit: u(1, 0), Amount: -43}}, api.OK},
 		{[]api.Account{house, fourth, third}, nil, api.ErrRange}, {[]api.Account{house, third, fourth}, nil, api.ErrNone},
 	} {

@@ -43,6 +43,11 @@ func TestP21_1(t *testing.T) {
 	if !deal.Is(d) || !deal.Is(deal.Desk{}) || deal.Is(deal.Desk{Purse: []api.Flow{{}}}) || deal.Is(deal.Desk{Book: []api.Pos{{}}}) {
 		t.Error("Is")
 	}
+	for _, price := range []int64{0, 1<<31 - 1} {
+		if x, e := deal.At(deal.Desk{}, ten, a, b, 1, price); e != api.OK || purse.Get(x.Purse, b) != 10*(7-price) {
+			t.Error("the least and the most price", price, e)
+		}
+	}
 	for _, q := range []int64{api.MaxQty, -api.MaxQty} {
 		if _, e := deal.At(deal.Desk{}, ten, a, b, q, 8); e != api.OK {
 			t.Error("the most", q, e)

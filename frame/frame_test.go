@@ -30,10 +30,15 @@ func TestP7_1_Encode(t *testing.T) {
 	if e != api.OK || !bytes.Equal(b, crc.Seal(want)) || len(b) != api.Cell {
 		t.Errorf("%x %d", b, e)
 	}
+	wide := frame.Frame{Life: 0x010203, Era: 0x040506, Seq: 0x0708090a, Part: 0x0b, Parts: 0x0c, Data: []byte("xyz")}
+	if f, e := frame.Decode(b); e != api.OK || !like(f, wide) {
+		t.Error("there and back", f, e)
+	}
 	fine := []frame.Frame{{1, 0, 1, 0, 1, nil}, {1<<24 - 1, 1<<24 - 1, 1<<32 - 1, 254, 255, data(80)}}
 	for _, f := range fine {
-		if b, e := frame.Encode(f); e != api.OK || len(b) != api.Cell {
-			t.Error(f, e)
+		b, e := frame.Encode(f)
+		if x, g := frame.Decode(b); e != api.OK || g != api.OK || len(b) != api.Cell || !like(x, f) {
+			t.Error(f, e, g)
 		}
 	}
 	for _, f := range []frame.Frame{

@@ -122,3 +122,10 @@ func TestP23_3(t *testing.T) {
 		}
 	}
 }
+
+func TestP23_First(t *testing.T) {
+	l, _, _ := give.New(nil, one(u(1, 1), u(2, 0)), 0)
+	if g, ok := give.Find(l, 1); !ok || g != l[0] {
+		t.Error("Find the first", g, ok)
+	}
+}

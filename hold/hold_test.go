@@ -107,7 +107,8 @@ func TestP26_2(t *testing.T) {
 		t.Error("Set to none", m, e)
 	}
 	m, _ = hold.Put(l, u(9, 9), lot(1, 1, 1))
-	if m[0].Lots[0].Qty = 77; !like(l, start()) {
+	n, _ := hold.Set(l, u(9, 9), nil)
+	if m[0].Lots[0].Qty, n[0].Lots[0].Qty = 77, 77; !like(l, start()) {
 		t.Error("changed", l)
 	}
 }

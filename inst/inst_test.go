@@ -141,3 +141,25 @@ func TestP13_3(t *testing.T) {
 		}
 	}
 }
+
+func TestP13_1_First(t *testing.T) {
+	l := []api.Inst{{Id: 1, Mult: 1, Price: 5, Next: 6, Moves: []int64{1}}}
+	if i, ok := inst.Find(l, 1); !ok || i.Price != 5 {
+		t.Error("Find the first", i, ok)
+	}
+	m, e := inst.Next(l, 1, 0)
+	if e != api.OK || m[0].Next != 0 || l[0].Next != 6 {
+		t.Error("Next of the first", m, e)
+	}
+	if x, e := inst.Put(l, api.Inst{Id: 1, Mult: 1}); len(x) > 0 || e != api.ErrThere {
+		t.Error("the first is there", x, e)
+	}
+	moves := []int64{2}
+	p, _ := inst.Put(l, api.Inst{Id: 2, Mult: 1, Moves: moves})
+	if l[0].Moves[0], moves[0] = 8, 8; m[0].Moves[0] != 1 || p[0].Moves[0] != 1 || p[1].Moves[0] != 2 {
+		t.Error("shared", m, p)
+	}
+	if n, e := inst.Gain(l[0], 1, 0, high); n != high || e != api.OK {
+		t.Error("from nothing to the most", n, e)
+	}
+}

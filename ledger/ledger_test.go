@@ -44,6 +44,7 @@ func rich() api.State {
 func spoils() []func(s *api.State) {
 	return []func(s *api.State){
 		func(s *api.State) { s.Day = -1 }, func(s *api.State) { s.Day = 1<<20 + 1 },
+		func(s *api.State) { s.Members = append(s.Members, s.Members[1]) }, func(s *api.State) { s.Insts = append(s.Insts, s.Insts[1]) }, func(s *api.State) { s.Assets = append(s.Assets, s.Assets[1]) }, func(s *api.State) { s.Accounts = append(s.Accounts, s.Accounts[2]) },
 		func(s *api.State) { s.Members[0].Id = 4 }, func(s *api.State) { s.Members[0].Cap = -1 }, func(s *api.State) { s.Members[1].Id = 5 }, func(s *api.State) { s.Members[1].Phase = 4 },
 		func(s *api.State) { s.Insts[0].Id = 8 }, func(s *api.State) { s.Insts[1].Mult = 0 }, func(s *api.State) { s.Insts[0].Moves = make([]int64, 9) }, func(s *api.State) { slices.Reverse(s.Insts) },
 		func(s *api.State) { s.Assets[0].Id = 3 }, func(s *api.State) { s.Assets[1].Haircut = 10001 }, func(s *api.State) { slices.Reverse(s.Assets) },
@@ -85,7 +86,7 @@ func TestP33_1(t *testing.T) {
 		t.Error("are ledgers", ledger.Check(rich()))
 	}
 	full := rich()
-	full.Groups, full.Gives = many(64), gives(64)
+	full.Groups, full.Gives, full.Day = many(64), gives(64), 1<<20
 	if ledger.Check(full) != api.OK {
 		t.Error("64 of each")
 	}

@@ -93,3 +93,16 @@ func TestP14_3(t *testing.T) {
 		}
 	}
 }
+
+func TestP14_1_First(t *testing.T) {
+	l := []api.Member{{Id: 1, Cap: 5}, {Id: 2, Cap: 6}}
+	if m, ok := member.Find(l, 1); !ok || m.Cap != 5 {
+		t.Error("Find the first", m, ok)
+	}
+	if x, e := member.Set(l, api.Member{Id: 1, Cap: 7}); e != api.OK || x[0].Cap != 7 || l[0].Cap != 5 {
+		t.Error("Set the first", x, e)
+	}
+	if x, e := member.Put(l, api.Member{Id: 1}); len(x) > 0 || e != api.ErrThere {
+		t.Error("the first is there", x, e)
+	}
+}

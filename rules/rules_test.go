@@ -167,6 +167,21 @@ func TestP35_1_Rules(t *testing.T) {
 	}
 }
 
+func TestP35_1_Memory(t *testing.T) {
+	s := play(t, api.State{}, base)
+	for _, line := range []string{"day 0", "day 1", "trade 0 2.1 4.1 1 3 7", "inst 0 3 1 1 5", "cash 0 1.0"} {
+		before, c := ledger.Clone(s), parse(line)
+		x, _ := rules.Apply(s, c)
+		x.Members[0].Cap, x.Insts[0].Moves[0], x.Assets[0].Price, x.Accounts[1].Clients = 77, 77, 77, nil
+		if len(x.Insts) > 2 {
+			x.Insts[2].Moves[0] = 77
+		}
+		if !ledger.Same(s, before) || len(c.Numbers) > 0 && c.Numbers[0] != 5 {
+			t.Error("shared", line)
+		}
+	}
+}
+
 func TestP35_1_Whose(t *testing.T) {
 	s := play(t, api.State{}, base)
 	for _, line := range []string{"member %d 8 1", "inst %d 8 1 1", "asset %d 4 1 1", "account %d 9.0 1 1", "cap %d 1 9", "mark %d 1 5", "value %d 1 5", "day %d", "default %d 1 3", "port %d 2.1", "liquidate %d 1", "fill %d 2.1 3.0 1 1 1", "close %d 1", "calls %d"} {
@@ -268,6 +283,8 @@ func TestP35_1_Trade(t *testing.T) {
 		trade 0 9.1 9.2 8 0 -1: error 11
 		trade 0 2.1 9.2 8 0 -1: error 11
 		trade 0 2.1 4.1 8 0 -1: error 11
+		trade 0 2.1 4.1 1 -1 7: error 2
+		trade 0 2.1 4.1 1 -9223372036854775808 7: error 2
 		trade 0 2.1 4.1 1 0 -1: error 2
 		trade 0 2.1 2.1 1 1 -1: error 2
 		trade 0 2.1 2.1 1 1099511627777 1: error 2
@@ -318,6 +335,8 @@ func TestP35_1_Give(t *testing.T) {
 		accept 0 3: error 16
 		give 0 2.2 4.2 1 1 2147483647: ok 4
 		accept 0 4`)
+	play(t, x, `give 0 2.1 4.1 1 1099511627776 0: ok 5
+		give 0 2.1 4.1 1 -1099511627776 2147483647: ok 6`)
 	y := play(t, x, `default 0 3 0
 		accept 0 3: error 15
 		give 0 4.1 6.5 1 1 1: error 15
@@ -471,7 +490,10 @@ func TestP35_1_Cash(t *testing.T) {
 		deposit 0 2.2 0 0 40
 		withdraw 0 2.2 0 0 11: error 22
 		withdraw 0 2.2 0 0 10
-		withdraw 0 4.1 0 0 1: error 23`)
+		withdraw 0 4.1 0 0 1: error 23
+		deposit 0 6.5 0 0 3
+		withdraw 0 6.5 0 0 3
+		cash 0 6.5: ok 0`)
 	for tag := range 15 {
 		s = play(t, s, fmt.Sprintf("deposit 0 2.1 2 %d 1", tag))
 	}
@@ -506,6 +528,8 @@ func TestP35_1_Elect(t *testing.T) {
 		deposit 0 2.1 2 9 4
 		default 0 1 2
 		default 0 1 2: error 13
+		default 0 3 16
+		phase 0 3: ok 1 16 0
 		elect 0 2.2 4.1
 		port 0 2.2: error 20
 		consent 0 2.2 4.1

@@ -132,3 +132,31 @@ func shares(t *testing.T, total, sum int64, weights []int64) {
 		t.Error("Split loses something", total, weights, l)
 	}
 }
+
+func TestP3_1_Largest(t *testing.T) {
+	seed := uint64(9)
+	for range 200 {
+		weights := make([]int64, 40)
+		sum, total := int64(0), int64(0)
+		for i := range weights {
+			seed = seed*6364136223846793005 + 1442695040888963407
+			weights[i] = int64(seed >> 33 % 50)
+			sum += weights[i]
+			total += int64(seed >> 50 % 9)
+		}
+		l, e := share.Split(total, weights...)
+		if e != api.OK {
+			t.Fatal("Split", e)
+		}
+		for i := range l {
+			for j := range l {
+				more := l[i] > total*weights[i]/sum
+				less := l[j] == total*weights[j]/sum
+				a, b := total*weights[i]%sum, total*weights[j]%sum
+				if more && less && (a < b || a == b && j < i) {
+					t.Fatal("not the largest first", total, weights, l)
+				}
+			}
+		}
+	}
+}

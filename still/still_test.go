@@ -71,6 +71,10 @@ func TestP9_1(t *testing.T) {
 	lay(t, d, 1, 7, 8, 1, long(321))
 	loads(t, d, 1, 4, 0, nil)
 	loads(t, d, 0, 4, 0, nil)
+	if e := still.Save(d, 7, 1, 9, 1, nil); e != api.OK {
+		t.Error("places of one sector", e)
+	}
+	loads(t, d, 7, 1, 1, nil)
 }
 
 func TestP9_2(t *testing.T) {

@@ -66,6 +66,9 @@ func TestP10_1(t *testing.T) {
 			t.Error("Open of nil", e)
 		}
 	}
+	if v, e := vault.Open(d, 1); e != api.OK || v.Left() != 4 {
+		t.Error("places of one sector", e)
+	}
 	v := open(t, d, 2)
 	has(t, v, 0, "")
 	if v.Left() != 2 {
@@ -230,4 +233,29 @@ func crash(t *testing.T, d *drive.Drive, v *vault.Vault, last, s step, mask int)
 		t.Error("goes on", e)
 	}
 	has(t, open(t, d, 3), last.era, last.text, append(slices.Clone(last.recs), "on")...)
+}
+
+func TestP10_Lives(t *testing.T) {
+	d := disk(t, 3)
+	life := func(at int) int {
+		b, _ := d.Read(at)
+		f, e := frame.Decode(b)
+		if e != api.OK {
+			t.Fatal("no frame", at)
+		}
+		return f.Life
+	}
+	v := open(t, d, 1)
+	if v.Append(nil) != api.OK || life(2) != 1 {
+		t.Error("the first life", life(2))
+	}
+	v = open(t, d, 1)
+	if v.Compact(nil) != api.OK || life(1) != 2 || v.Append(nil) != api.OK || life(2) != 3 {
+		t.Error("a life more", life(1), life(2))
+	}
+	lay(t, d, 0, 9, 0)
+	v = open(t, d, 1)
+	if v.Compact([]byte("s")) != api.OK || life(0) != 10 || v.Compact([]byte("t")) != api.OK || life(1) != 11 {
+		t.Error("above all that there are", life(0), life(1))
+	}
 }

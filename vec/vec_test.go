@@ -79,6 +79,7 @@ func TestP11_2_Neg_With(t *testing.T) {
 		{api.Leg{Inst: 1, Qty: -5}, legs{{Inst: 4, Qty: -2}}, api.OK},
 		{api.Leg{Inst: 2, Qty: 3}, legs{{Inst: 1, Qty: 5}, {Inst: 2, Qty: 3}, {Inst: 4, Qty: -2}}, api.OK},
 		{api.Leg{Inst: 2}, v, api.OK},
+		{api.Leg{Inst: 8, Qty: 1}, legs{{Inst: 1, Qty: 5}, {Inst: 4, Qty: -2}, {Inst: 8, Qty: 1}}, api.OK},
 		{api.Leg{Inst: 0}, nil, api.ErrForm},
 		{api.Leg{Inst: 9, Qty: 1}, nil, api.ErrForm},
 		{api.Leg{Inst: 1, Qty: most}, nil, api.ErrRange},
