@@ -56,6 +56,9 @@ func TestP22_1(t *testing.T) {
 			}
 		}
 	}
+	if n, e := block.Rest(1, fills{{Qty: -3, Price: 10}, {Qty: -4, Price: 11}}); n != -4 || e != api.OK {
+		t.Error("Rest", n, e)
+	}
 	if n, e := block.Rest(1<<16, fills{{Qty: 3, Price: 10}, {Qty: 4, Price: 11}}); n != 4<<16 || e != api.OK {
 		t.Error("Rest", n, e)
 	}

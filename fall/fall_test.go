@@ -160,6 +160,10 @@ func TestP31_3_Own(t *testing.T) {
 	if e != api.OK || !slices.Equal(l, []api.Debit{debit(a, a, 6)}) || purse.Get(x.Purse, a) != -4 {
 		t.Error("Own", x.Purse, l, e)
 	}
+	x, l, e = fall.Own(with([]api.Flow{f(1, 1, -9)}, has(a, lot(1, 0, 4))), a)
+	if e != api.OK || !slices.Equal(l, []api.Debit{debit(a, a, 9)}) || purse.Get(x.Purse, a) != 0 || hold.Lots(x.Holds, a)[0].Qty != 1 {
+		t.Error("no more than it owes", x.Purse, l, e)
+	}
 	for i, s := range []api.State{with([]api.Flow{f(1, 1, 10)}, has(a, lot(1, 0, 2))), with([]api.Flow{f(1, 1, -10)}), with([]api.Flow{f(1, 1, -10)}, has(a, lot(3, 0, 2)))} {
 		if x, l, e := fall.Own(s, a); e != api.OK || len(l) > 0 || !like(x, s) {
 			t.Error("nothing", i, x, l, e)
@@ -249,6 +253,12 @@ func TestP31_4_All(t *testing.T) {
 	s.Purse[7].Amount = least
 	x, d, e = fall.All(s, 1)
 	refused(t, "All", x, d, e, api.ErrRange)
+	for name, p := range map[string][]api.Flow{"Shared": {f(1, 1, most), f(1, 2, 1)}, "by the house": {f(2, 0, most)}, "by the fund": {f(0, 0, most)}} {
+		s = member()
+		s.Purse = p
+		x, d, e = fall.All(s, 1)
+		refused(t, name, x, d, e, api.ErrRange)
+	}
 	s = member()
 	s.Holds = append(s.Holds, has(u(6, 0)))
 	x, d, e = fall.All(s, 1)

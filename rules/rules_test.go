@@ -303,6 +303,11 @@ func TestP35_1_Trade(t *testing.T) {
 	play(t, x, `cap 0 1 2
 		trade 0 2.1 4.1 1 1 7: error 16
 		trade 0 4.1 2.1 1 1 7`)
+	for client := 1; client < 3; client++ {
+		x.Book = append(x.Book[:client-1], api.Pos{Unit: api.Unit{Account: 2, Client: client}, Legs: []api.Leg{{Inst: 1, Qty: 1 << 62}}})
+	}
+	play(t, x, `trade 0 2.1 4.1 1 1 7: error 7
+		trade 0 4.1 2.1 1 1 7: error 16`)
 }
 
 func TestP35_1_Give(t *testing.T) {
